@@ -1,0 +1,393 @@
+package tests
+
+import (
+	"fmt"
+	"math"
+	"math/rand"
+	"reflect"
+	"strings"
+	"testing"
+
+	"loop.example/g01101/impl"
+)
+
+// This file holds promise 1 for every function by calling it with reflection.
+
+// call is a function of the program with arguments.
+type call struct {
+	name string
+	fn   any
+	args []any
+}
+
+// copied returns a deep copy. Each slice of the copy gets spare elements behind
+// its end, which are filled, so that what is written there can be seen.
+func copied(v reflect.Value, spare int) reflect.Value {
+	out := reflect.New(v.Type()).Elem()
+	switch v.Kind() {
+	case reflect.Slice:
+		if v.Len() == 0 && spare == 0 {
+			return out
+		}
+		s := reflect.MakeSlice(v.Type(), v.Len(), v.Len()+spare)
+		for i := range v.Len() {
+			s.Index(i).Set(copied(v.Index(i), spare))
+		}
+		for i := range spare {
+			fill(s.Slice(0, s.Cap()).Index(v.Len() + i))
+		}
+		return s
+	case reflect.Struct:
+		for i := range v.NumField() {
+			out.Field(i).Set(copied(v.Field(i), spare))
+		}
+		return out
+	}
+	return v
+}
+
+// fill writes a value that nobody else writes.
+func fill(v reflect.Value) {
+	switch v.Kind() {
+	case reflect.Int64:
+		v.SetInt(-424242)
+	case reflect.Bool:
+		v.SetBool(true)
+	case reflect.Struct:
+		for i := range v.NumField() {
+			fill(v.Field(i))
+		}
+	}
+}
+
+// seen writes down a value, with all of its capacity if whole is true. Nil and
+// empty slices look the same.
+func seen(out *strings.Builder, v reflect.Value, whole bool) {
+	switch v.Kind() {
+	case reflect.Slice:
+		fmt.Fprintf(out, "%d[", v.Len())
+		if whole {
+			v = v.Slice(0, v.Cap())
+		}
+		for i := range v.Len() {
+			seen(out, v.Index(i), whole)
+		}
+		out.WriteString("]")
+	case reflect.Struct:
+		out.WriteString("{")
+		for i := range v.NumField() {
+			seen(out, v.Field(i), whole)
+		}
+		out.WriteString("}")
+	default:
+		fmt.Fprintf(out, "%#v,", v.Interface())
+	}
+}
+
+func look(list []reflect.Value, whole bool) string {
+	var out strings.Builder
+	for _, v := range list {
+		seen(&out, v, whole)
+	}
+	return out.String()
+}
+
+// memory adds the ranges of addresses of all slices in a value.
+func memory(v reflect.Value, list [][2]uintptr) [][2]uintptr {
+	switch v.Kind() {
+	case reflect.Slice:
+		if v.Cap() > 0 && v.Type().Elem().Size() > 0 {
+			start := v.Pointer()
+			list = append(list, [2]uintptr{start, start + uintptr(v.Cap())*v.Type().Elem().Size()})
+		}
+		for i := range v.Len() {
+			list = memory(v.Index(i), list)
+		}
+	case reflect.Struct:
+		for i := range v.NumField() {
+			list = memory(v.Field(i), list)
+		}
+	}
+	return list
+}
+
+// shared reports whether two ranges have an address in common.
+func shared(list, others [][2]uintptr, same bool) bool {
+	for i, a := range list {
+		for k, b := range others {
+			if a[0] < b[1] && b[0] < a[1] && !(same && i == k) {
+				return true
+			}
+		}
+	}
+	return false
+}
+
+// scribble overwrites all slices of a value, with their capacity.
+func scribble(v reflect.Value) {
+	switch v.Kind() {
+	case reflect.Slice:
+		for i := range v.Len() {
+			scribble(v.Index(i))
+		}
+		for i := range v.Cap() {
+			fill(v.Slice(0, v.Cap()).Index(i))
+		}
+	case reflect.Struct:
+		for i := range v.NumField() {
+			scribble(v.Field(i))
+		}
+	}
+}
+
+func values(args []any, spare int) []reflect.Value {
+	list := []reflect.Value{}
+	for _, a := range args {
+		list = append(list, copied(reflect.ValueOf(a), spare))
+	}
+	return list
+}
+
+// checkPure makes a call several times, and looks at arguments and results.
+func checkPure(t *testing.T, c call) {
+	t.Helper()
+	fn := reflect.ValueOf(c.fn)
+	tight, roomy := values(c.args, 0), values(c.args, 3)
+	before := look(roomy, true)
+	first := fn.Call(roomy)
+	told := look(first, false)
+	if look(roomy, true) != before {
+		t.Errorf("%s of %s modifies an argument", c.name, short(fmt.Sprint(c.args)))
+	}
+	taken, given := [][2]uintptr{}, [][2]uintptr{}
+	for _, v := range roomy {
+		taken = memory(v, taken)
+	}
+	for _, v := range first {
+		given = memory(v, given)
+	}
+	if shared(given, taken, false) || shared(given, given, true) {
+		t.Errorf("%s of %s gives out shared memory", c.name, short(fmt.Sprint(c.args)))
+	}
+	for _, v := range first {
+		scribble(v)
+	}
+	if look(fn.Call(roomy), false) != told || look(fn.Call(tight), false) != told {
+		t.Errorf("%s of %s is not the same again", c.name, short(fmt.Sprint(c.args)))
+	}
+	if look(roomy, true) != before {
+		t.Errorf("%s of %s keeps an argument in its result", c.name, short(fmt.Sprint(c.args)))
+	}
+}
+
+// exprCalls are calls of all functions with an expression.
+func exprCalls(g impl.Sig, e impl.Expr, w impl.Word, by []impl.Expr) []call {
+	return []call{
+		{"ValidExpr", impl.ValidExpr, []any{g, e}},
+		{"IsCondition", impl.IsCondition, []any{e}},
+		{"SameExpr", impl.SameExpr, []any{e, e}},
+		{"ExprSize", impl.ExprSize, []any{e}},
+		{"ExprText", impl.ExprText, []any{g, e}},
+		{"TruthAt", impl.TruthAt, []any{g, e, int64(0)}},
+		{"Matches", impl.Matches, []any{g, e, w}},
+		{"WordsUpTo", impl.WordsUpTo, []any{g, e, int64(2)}},
+		{"CountWords", impl.CountWords, []any{g, e, int64(3)}},
+		{"ReverseExpr", impl.ReverseExpr, []any{g, e}},
+		{"ReplaceActions", impl.ReplaceActions, []any{g, e, by}},
+		{"EmptyAt", impl.EmptyAt, []any{g, e, int64(0)}},
+		{"TidyExpr", impl.TidyExpr, []any{g, e}},
+		{"Derive", impl.Derive, []any{g, e, int64(1), int64(0)}},
+		{"StatesOf", impl.StatesOf, []any{g, e}},
+		{"AutomatonOf", impl.AutomatonOf, []any{g, e}},
+	}
+}
+
+// wordCalls are calls of all functions with words or texts alone.
+func wordCalls(g impl.Sig, v, w impl.Word, text string) []call {
+	return []call{
+		{"CodeName", impl.CodeName, []any{int64(len(text))}},
+		{"ValidSig", impl.ValidSig, []any{g}},
+		{"ValidWord", impl.ValidWord, []any{g, w}},
+		{"SameWord", impl.SameWord, []any{v, w}},
+		{"WordText", impl.WordText, []any{g, w}},
+		{"ReadWord", impl.ReadWord, []any{g, text}},
+		{"ReadExpr", impl.ReadExpr, []any{g, text}},
+		{"FuseWords", impl.FuseWords, []any{g, v, w}},
+		{"ReverseWord", impl.ReverseWord, []any{g, w}},
+	}
+}
+
+func TestPurity(t *testing.T) {
+	r := rand.New(rand.NewSource(8))
+	for range 120 {
+		v, w := randomWord(r, sig12, r.Intn(4)), randomWord(r, sig12, r.Intn(4))
+		w.Atoms[0] = v.Atoms[len(v.Acts)]
+		e := randomExpr(r, sig12, 4)
+		by := []impl.Expr{randomExpr(r, sig12, 3), randomCondition(r, sig12, 2)}
+		for _, c := range exprCalls(sig12, e, w, by) {
+			checkPure(t, c)
+		}
+		for _, text := range []string{impl.ExprText(sig12, e), impl.WordText(sig12, w), "?"} {
+			for _, c := range wordCalls(sig12, v, w, text) {
+				checkPure(t, c)
+			}
+		}
+	}
+	x := tree(impl.EDot, act(0), tree(impl.ESum, act(1), one))
+	repeated := tree(impl.ESum, tree(impl.EDot, act(0), act(0)), tree(impl.EStar, act(0)))
+	checkPure(t, call{"ReplaceActions", impl.ReplaceActions, []any{sig12, repeated, []impl.Expr{x, x}}})
+	checkPure(t, call{"WordsUpTo", impl.WordsUpTo, []any{sig34, mustExpr(t, sig34, "((t0 + a0) + (a1 t2))"), int64(10)}})
+	checkPure(t, call{"TidyExpr", impl.TidyExpr, []any{sig12, mustExpr(t, sig12, "(~(t0 + 0) + ((a0 a1) ~t0*))")}})
+}
+
+// TestPurityOfInvalid: what is not valid is not modified either.
+func TestPurityOfInvalid(t *testing.T) {
+	g, w := impl.Sig{Tests: 2, Actions: 2}, impl.Word{Atoms: []int64{0}}
+	for _, e := range badExprs() {
+		for _, c := range exprCalls(g, e, w, []impl.Expr{e, e}) {
+			checkPure(t, c)
+		}
+		checkPure(t, call{"ReplaceActions", impl.ReplaceActions, []any{g, one, []impl.Expr{act(0), e}}})
+	}
+	for _, bad := range badWords() {
+		for _, c := range wordCalls(sig12, bad, bad, "0 a0") {
+			checkPure(t, c)
+		}
+		checkPure(t, call{"FuseWords", impl.FuseWords, []any{sig12, w, bad}})
+		checkPure(t, call{"Matches", impl.Matches, []any{sig12, one, bad}})
+	}
+}
+
+// isZeroOf reports whether a value is zero, where an empty slice is as good as nil.
+func isZeroOf(v reflect.Value) bool {
+	switch v.Kind() {
+	case reflect.Slice:
+		return v.Len() == 0
+	case reflect.Struct:
+		for i := range v.NumField() {
+			if !isZeroOf(v.Field(i)) {
+				return false
+			}
+		}
+		return true
+	}
+	return v.IsZero()
+}
+
+// TestZeroWithErrors: together with a code other than OK all results are zero,
+// and for what is not valid there is no other code than ErrInvalid.
+func TestZeroWithErrors(t *testing.T) {
+	g, w := impl.Sig{Tests: 2, Actions: 2}, impl.Word{Atoms: []int64{0}}
+	total := map[string]bool{"IsCondition": true, "SameExpr": true, "ExprSize": true}
+	for name, e := range badExprs() {
+		for _, c := range exprCalls(g, e, w, []impl.Expr{one, one}) {
+			if total[c.name] {
+				continue
+			}
+			results := reflect.ValueOf(c.fn).Call(values(c.args, 0))
+			last := results[len(results)-1]
+			if len(results) > 1 {
+				want(t, c.name+" of "+name, last.Int(), impl.ErrInvalid)
+				results = results[:len(results)-1]
+			}
+			for _, v := range results {
+				if !isZeroOf(v) {
+					t.Errorf("%s of %s: %v is not zero", c.name, name, v)
+				}
+			}
+		}
+	}
+}
+
+// TestLargeArguments: arguments that are nested 10,000 levels deep, that have
+// nearly a million elements in all, or numbers at the ends of their range.
+func TestLargeArguments(t *testing.T) {
+	wide := tree(impl.ESum, make([]impl.Expr, 399_999)...)
+	split := one
+	for range 17 {
+		split = tree(impl.ESum, split, split)
+	}
+	large := map[string]impl.Expr{
+		"stars":  nested(impl.EStar, 9_999, act(0)),
+		"nots":   nested(impl.ENot, 9_999, test(0)),
+		"sums":   nested(impl.ESum, 9_998, tree(impl.ESum, one, one)),
+		"wide":   wide,
+		"in not": tree(impl.ENot, wide),
+		"shared": split,
+	}
+	sizes := map[string]int64{"stars": 10_000, "nots": 10_000, "sums": 10_001, "wide": 400_000, "in not": 400_001, "shared": 1<<18 - 1}
+	conditions := map[string]bool{"nots": true, "sums": true, "shared": true}
+	for name, e := range large {
+		want(t, name, list(impl.ExprSize(e), impl.IsCondition(e), impl.SameExpr(e, e), impl.ValidExpr(sig12, e)),
+			list(sizes[name], conditions[name], true, false))
+		want(t, "another "+name, impl.SameExpr(e, nested(impl.EStar, 9_999, act(1))), false)
+		for _, c := range exprCalls(sig12, e, impl.Word{Atoms: []int64{0}}, []impl.Expr{one, e}) {
+			arguments := []reflect.Value{}
+			for _, a := range c.args {
+				arguments = append(arguments, reflect.ValueOf(a))
+			}
+			results := reflect.ValueOf(c.fn).Call(arguments)
+			if len(results) > 1 {
+				want(t, c.name+" of "+name, results[len(results)-1].Int(), impl.ErrInvalid)
+			}
+		}
+	}
+	numbers := make([]int64, 240_000)
+	long := impl.Word{Atoms: numbers, Acts: numbers[1:]}
+	_, first := impl.ReverseWord(sig12, long)
+	_, second := impl.FuseWords(sig12, impl.Word{Atoms: []int64{0}}, long)
+	_, third := impl.Matches(sig12, one, long)
+	_, fourth := impl.ReplaceActions(sig12, one, make([]impl.Expr, 900_000))
+	want(t, "long words", list(impl.ValidWord(sig12, long), impl.SameWord(long, long), impl.WordText(sig12, long),
+		first, second, third, fourth), list(false, true, "", 1, 1, 1, 1))
+	ones := make([]impl.Expr, 900_000)
+	for i := range ones {
+		ones[i].Kind = impl.EOne
+	}
+	_, fourth = impl.ReplaceActions(sig12, one, ones)
+	want(t, "very many valid elements", fourth, impl.ErrRange)
+	for _, part := range []string{"~", "(", "1", "0 a0 ", " a0 0", "*", "\xff"} {
+		_, first := impl.ReadExpr(sig12, strings.Repeat(part, 999_999/len(part)))
+		_, second := impl.ReadWord(sig12, "0"+strings.Repeat(part, 999_999/len(part)))
+		want(t, "long texts", list(first, second), list(impl.ErrRange, impl.ErrSyntax))
+	}
+	ends := []int64{math.MinInt64, -1, math.MaxInt64}
+	for _, x := range ends {
+		for _, y := range ends {
+			g := impl.Sig{Tests: x, Actions: y}
+			for _, c := range exprCalls(g, leaf(x, y), impl.Word{Atoms: []int64{x}, Acts: []int64{y}}, nil) {
+				reflect.ValueOf(c.fn).Call(values(c.args, 0))
+			}
+		}
+	}
+}
+
+// TestRandomBytes: texts of all kinds are read, or refused by ErrSyntax; what
+// is read has this text.
+func TestRandomBytes(t *testing.T) {
+	r := rand.New(rand.NewSource(9))
+	letters := "01ta~*( +)2 0a"
+	read := 0
+	for range 40_000 {
+		text := make([]byte, r.Intn(9))
+		for i := range text {
+			text[i] = letters[r.Intn(len(letters))]
+		}
+		e, code := impl.ReadExpr(sig12, string(text))
+		w, second := impl.ReadWord(sig12, string(text))
+		if code == impl.OK {
+			read++
+			want(t, "text", impl.ExprText(sig12, e), string(text))
+		} else {
+			want(t, "no expression", list(e, code), list(impl.Expr{}, impl.ErrSyntax))
+		}
+		if second == impl.OK {
+			want(t, "text of a word", impl.WordText(sig12, w), string(text))
+		} else {
+			want(t, "no word", list(w, second), list(impl.Word{}, impl.ErrSyntax))
+		}
+	}
+	if read < 100 {
+		t.Errorf("only %d texts are read", read)
+	}
+}
