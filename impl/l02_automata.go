@@ -216,89 +216,109 @@ func (d deriver) deriveDot(x dotNode) (node, bool) {
 }
 
 // DeriveWord returns the derivative by all actions of a word.
-func DeriveWord(g Sig, e Expr, w Word) (Expr, int64) { return Expr{}, 0 }
-
-// StatesOf returns all derivatives of an expression.
-func StatesOf(g Sig, e Expr) ([]Expr, int64) {
-	if !ValidExpr(g, e) {
-		return nil, ErrInvalid
+func DeriveWord(g Sig, e Expr, w Word) (Expr, int64) {
+	if !ValidExpr(g, e) || !ValidWord(g, w) {
+		return Expr{}, ErrInvalid
 	}
-	f, ok := findStates(g, nodeOf(e))
-	if !ok {
-		return nil, ErrLimit
+	n := nodeOf(e)
+	for i, act := range w.Acts {
+		// What has been derived once is tidy.
+		derived, ok := deriver{w.Atoms[i], act, i > 0}.derive(n)
+		if !ok {
+			return Expr{}, ErrLimit
+		}
+		n = derived
 	}
-	var list []Expr
-	for _, n := range f.states {
-		list = append(list, exprOf(n))
-	}
-	return list, OK
+	return exprOf(tidy(n)), OK
 }
 
-// finder numbers the derivatives of an expression as it finds them, and keeps
-// where each of them leads.
-type finder struct {
-	states []node
-	next   [][][]int64
-	index  map[string]int64
+// rules tell how the states of an automaton behave that are still to be found.
+type rules[S any, K comparable] struct {
+	// keyOf returns the same for states that are the same.
+	keyOf   func(s S) K
+	accepts func(s S, atom int64) bool
+	// next returns ErrNotFound where no word goes on; each other code than OK
+	// ends the search.
+	next func(s S, atom, act int64) (S, int64)
 }
 
-// findStates finds all derivatives, and returns false if a limit is exceeded.
-func findStates(g Sig, n node) (finder, bool) {
-	first := tidy(n)
-	f := finder{states: []node{first}, index: map[string]int64{nodeText(first): 0}}
-	for s := 0; s < len(f.states); s++ {
-		rows := make([][]int64, atomCount(g))
+// found returns the automaton of all states that can be reached from the first
+// one, numbered as they are found, and these states.
+func found[S any, K comparable](g Sig, first S, r rules[S, K]) (Automaton, []S, int64) {
+	a, states, index := Automaton{Sig: g}, []S{first}, map[K]int64{r.keyOf(first): 0}
+	for s := 0; s < len(states); s++ {
+		accepts, rows := make([]bool, atomCount(g)), make([][]int64, atomCount(g))
 		for atom := range rows {
+			accepts[atom] = r.accepts(states[s], int64(atom))
 			rows[atom] = make([]int64, g.Actions)
 			for act := range rows[atom] {
-				n, ok := deriver{int64(atom), int64(act), true}.derive(f.states[s])
-				if !ok {
-					return finder{}, false
+				next, code := r.next(states[s], int64(atom), int64(act))
+				if code == ErrNotFound {
+					rows[atom][act] = -1
+					continue
 				}
-				rows[atom][act] = f.numberOf(n)
+				if code != OK {
+					return Automaton{}, nil, code
+				}
+				number := numberIn(index, r.keyOf(next))
+				if number == int64(len(states)) {
+					states = append(states, next)
+				}
+				rows[atom][act] = number
 			}
 		}
-		f.next = append(f.next, rows)
-		if len(f.states) > MaxStates {
-			return finder{}, false
+		if len(states) > MaxStates {
+			return Automaton{}, nil, ErrLimit
 		}
+		a.Accept, a.Next = append(a.Accept, accepts), append(a.Next, rows)
 	}
-	return f, true
+	return a, states, OK
 }
 
-// numberOf returns the number of a derivative, which is added if it is new; -1 for EZero.
-func (f *finder) numberOf(n node) int64 {
-	if isZero(n) {
-		return -1
-	}
-	text := nodeText(n)
-	number, ok := f.index[text]
+// numberIn returns the number of a key; a new one gets the next number.
+func numberIn[K comparable](index map[K]int64, key K) int64 {
+	number, ok := index[key]
 	if !ok {
-		number = int64(len(f.states))
-		f.index[text] = number
-		f.states = append(f.states, n)
+		number = int64(len(index))
+		index[key] = number
 	}
 	return number
 }
 
+// derivatives finds the automaton of an expression, and its states.
+func derivatives(g Sig, e Expr) (Automaton, []node, int64) {
+	if !ValidExpr(g, e) {
+		return Automaton{}, nil, ErrInvalid
+	}
+	return found(g, tidy(nodeOf(e)), rules[node, string]{nodeText, emptyAt, nextDerivative})
+}
+
+// nextDerivative derives a tidy node.
+func nextDerivative(n node, atom, act int64) (node, int64) {
+	derived, ok := deriver{atom, act, true}.derive(n)
+	switch {
+	case !ok:
+		return derived, ErrLimit
+	case isZero(derived):
+		return derived, ErrNotFound
+	}
+	return derived, OK
+}
+
+// StatesOf returns all derivatives of an expression.
+func StatesOf(g Sig, e Expr) ([]Expr, int64) {
+	_, states, code := derivatives(g, e)
+	var list []Expr
+	for _, n := range states {
+		list = append(list, exprOf(n))
+	}
+	return list, code
+}
+
 // AutomatonOf returns the automaton of an expression.
 func AutomatonOf(g Sig, e Expr) (Automaton, int64) {
-	if !ValidExpr(g, e) {
-		return Automaton{}, ErrInvalid
-	}
-	f, ok := findStates(g, nodeOf(e))
-	if !ok {
-		return Automaton{}, ErrLimit
-	}
-	a := Automaton{Sig: g, Next: f.next}
-	for _, n := range f.states {
-		accepts := make([]bool, atomCount(g))
-		for atom := range accepts {
-			accepts[atom] = emptyAt(n, int64(atom))
-		}
-		a.Accept = append(a.Accept, accepts)
-	}
-	return a, OK
+	a, _, code := derivatives(g, e)
+	return a, code
 }
 
 // counter tells how many words of a length an automaton accepts from a state.
@@ -313,24 +333,34 @@ type counter struct {
 func newCounter(a Automaton, length int64) counter {
 	c := counter{automaton: a}
 	for n := range length + 1 {
+		// A word ends in its state if it has no action, and leads on otherwise.
+		count := [...]func(state, length int64) int64{c.ending, c.leading}[min(n, 1)]
 		row := make([]int64, len(a.Accept))
 		for s := range row {
-			row[s] = c.count(int64(s), n)
+			row[s] = count(int64(s), n)
 		}
 		c.rows = append(c.rows, row)
 	}
 	return c
 }
 
-// count counts the words from a state by those that are one action shorter.
-func (c counter) count(state, length int64) int64 {
+// ending counts the words of length 0 from a state.
+func (c counter) ending(state, length int64) int64 {
 	total := int64(0)
-	for atom, accepts := range c.automaton.Accept[state] {
-		if length == 0 && accepts {
+	for _, accepts := range c.automaton.Accept[state] {
+		if accepts {
 			total++
 		}
-		for _, next := range c.automaton.Next[state][atom] {
-			if length > 0 && next >= 0 {
+	}
+	return total
+}
+
+// leading counts the words from a state by those that are one action shorter.
+func (c counter) leading(state, length int64) int64 {
+	total := int64(0)
+	for _, row := range c.automaton.Next[state] {
+		for _, next := range row {
+			if next >= 0 {
 				total += c.words(next, length-1)
 			}
 		}
@@ -343,32 +373,442 @@ func (c counter) words(state, length int64) int64 {
 	return c.rows[length][state]
 }
 
+// firstWord returns the first word of a length, if there is one.
+func (c counter) firstWord(length int64) Word {
+	w, state := Word{}, int64(0)
+	for n := length; n > 0; n-- {
+		atom, act := c.firstStep(state, n)
+		w.Atoms, w.Acts = append(w.Atoms, atom), append(w.Acts, act)
+		state = c.automaton.Next[state][atom][act]
+	}
+	w.Atoms = append(w.Atoms, int64(slices.Index(c.automaton.Accept[state], true)))
+	return w
+}
+
+// firstStep returns the atom and the action with which the first word begins.
+func (c counter) firstStep(state, length int64) (int64, int64) {
+	for atom, row := range c.automaton.Next[state] {
+		for act, next := range row {
+			if next >= 0 && c.words(next, length-1) > 0 {
+				return int64(atom), int64(act)
+			}
+		}
+	}
+	return 0, 0
+}
+
 // ValidAutomaton reports whether an automaton is valid.
-func ValidAutomaton(a Automaton) bool { return false }
+func ValidAutomaton(a Automaton) bool {
+	states := int64(len(a.Accept))
+	if !ValidSig(a.Sig) || states < 1 || states > MaxStates || int64(len(a.Next)) != states {
+		return false
+	}
+	for s, rows := range a.Next {
+		if int64(len(a.Accept[s])) != atomCount(a.Sig) || int64(len(rows)) != atomCount(a.Sig) {
+			return false
+		}
+		for _, row := range rows {
+			if int64(len(row)) != a.Sig.Actions {
+				return false
+			}
+			for _, next := range row {
+				if next != -1 && !below(next, states) {
+					return false
+				}
+			}
+		}
+	}
+	return true
+}
 
 // SameAutomaton reports whether two automata are deeply equal.
-func SameAutomaton(a, b Automaton) bool { return false }
+func SameAutomaton(a, b Automaton) bool {
+	sameRows := func(x, y [][]int64) bool { return slices.EqualFunc(x, y, slices.Equal[[]int64]) }
+	return a.Sig == b.Sig && slices.EqualFunc(a.Accept, b.Accept, slices.Equal[[]bool]) &&
+		slices.EqualFunc(a.Next, b.Next, sameRows)
+}
 
 // AutomatonText returns the text of an automaton.
-func AutomatonText(a Automaton) string { return "" }
+func AutomatonText(a Automaton) string {
+	if !ValidAutomaton(a) {
+		return ""
+	}
+	var out strings.Builder
+	writeNumber(&out, "automaton ", a.Sig.Tests)
+	writeNumber(&out, " ", a.Sig.Actions)
+	out.WriteString("\n")
+	for s, accepts := range a.Accept {
+		out.WriteString("state")
+		for atom, row := range a.Next[s] {
+			writeRow(&out, accepts[atom], row)
+		}
+		out.WriteString("\n")
+	}
+	return out.String()
+}
+
+// writeRow writes what a state does with an atom.
+func writeRow(out *strings.Builder, accepts bool, row []int64) {
+	if accepts {
+		out.WriteString(" +")
+	} else {
+		out.WriteString(" -")
+	}
+	for _, next := range row {
+		if next < 0 {
+			out.WriteString(":.")
+		} else {
+			writeNumber(out, ":", next)
+		}
+	}
+}
 
 // ReadAutomaton returns the automaton with the given text.
-func ReadAutomaton(text string) (Automaton, int64) { return Automaton{}, 0 }
+func ReadAutomaton(text string) (Automaton, int64) {
+	var a Automaton
+	ok := parsed(text, func(p *parser) { a = p.automaton() })
+	if !ok || !ValidAutomaton(a) {
+		return Automaton{}, ErrSyntax
+	}
+	return a, OK
+}
+
+// automaton reads an automaton, whose states may still lead to others that do
+// not exist.
+func (p *parser) automaton() Automaton {
+	var a Automaton
+	p.expect("automaton ")
+	a.Sig.Tests = p.number()
+	p.expect(" ")
+	a.Sig.Actions = p.number()
+	p.expect("\n")
+	if !ValidSig(a.Sig) {
+		p.fail()
+	}
+	for !p.atEnd() {
+		if len(a.Accept) == MaxStates {
+			p.fail()
+		}
+		accepts, rows := p.state(a.Sig)
+		a.Accept, a.Next = append(a.Accept, accepts), append(a.Next, rows)
+	}
+	return a
+}
+
+func (p *parser) state(g Sig) ([]bool, [][]int64) {
+	accepts, rows := make([]bool, atomCount(g)), make([][]int64, atomCount(g))
+	p.expect("state")
+	for atom := range rows {
+		p.expect(" ")
+		accepts[atom] = p.accept("+")
+		if !accepts[atom] {
+			p.expect("-")
+		}
+		rows[atom] = make([]int64, g.Actions)
+		for act := range rows[atom] {
+			p.expect(":")
+			rows[atom][act] = p.next()
+		}
+	}
+	p.expect("\n")
+	return accepts, rows
+}
+
+// next reads the number of a state, or what stands for none.
+func (p *parser) next() int64 {
+	if p.accept(".") {
+		return -1
+	}
+	return p.number()
+}
+
+// acceptsAt reports whether a state, or -1, accepts an atom.
+func acceptsAt(a Automaton, state, atom int64) bool {
+	return state >= 0 && a.Accept[state][atom]
+}
+
+// nextOf returns where a state, or -1, leads.
+func nextOf(a Automaton, state, atom, act int64) int64 {
+	if state < 0 {
+		return -1
+	}
+	return a.Next[state][atom][act]
+}
 
 // RunAutomaton reports whether a word is accepted.
-func RunAutomaton(a Automaton, w Word) (bool, int64) { return false, 0 }
+func RunAutomaton(a Automaton, w Word) (bool, int64) {
+	if !ValidAutomaton(a) || !ValidWord(a.Sig, w) {
+		return false, ErrInvalid
+	}
+	state := int64(0)
+	for i, act := range w.Acts {
+		state = nextOf(a, state, w.Atoms[i], act)
+	}
+	return acceptsAt(a, state, w.Atoms[len(w.Acts)]), OK
+}
+
+// maxAtoms is the greatest number of atoms.
+const maxAtoms = 1 << MaxTests
+
+// outlook is what a state accepts, and the classes to which it leads.
+type outlook struct {
+	accept [maxAtoms]bool
+	next   [maxAtoms][MaxActions]int64
+}
+
+// classes are the classes of the states of an automaton, where that of a state
+// is found at its number plus 1: at the beginning stands -1, from which nothing
+// is accepted, so that the dead states are those of its class.
+type classes []int64
+
+func (c classes) of(state int64) int64 {
+	return c[state+1]
+}
+
+func (c classes) isDead(state int64) bool {
+	return c.of(state) == c.of(-1)
+}
+
+// classesOf returns the classes of equivalent states: at first all are in one
+// class, and a class is parted until all states in it have the same outlook.
+func classesOf(a Automaton) classes {
+	c, count := make(classes, len(a.Accept)+1), 1
+	for {
+		finer, more := refined(outlooks(a, c))
+		if more == count {
+			return c
+		}
+		c, count = finer, more
+	}
+}
+
+// refined returns the classes of equal keys, and how many there are.
+func refined[K comparable](keys []K) ([]int64, int) {
+	index, numbers := map[K]int64{}, []int64{}
+	for _, key := range keys {
+		numbers = append(numbers, numberIn(index, key))
+	}
+	return numbers, len(index)
+}
+
+// outlooks returns those of -1 and of all states.
+func outlooks(a Automaton, c classes) []outlook {
+	list := make([]outlook, len(c))
+	for i := range list {
+		state := int64(i) - 1
+		for atom := range atomCount(a.Sig) {
+			list[i].accept[atom] = acceptsAt(a, state, atom)
+			for act := range a.Sig.Actions {
+				list[i].next[atom][act] = c.of(nextOf(a, state, atom, act))
+			}
+		}
+	}
+	return list
+}
+
+// merger merges equivalent states; each class is told by one of its states.
+type merger struct {
+	automaton Automaton
+	classes   classes
+}
+
+func (m merger) accepts(state, atom int64) bool {
+	return m.automaton.Accept[state][atom]
+}
+
+func (m merger) next(state, atom, act int64) (int64, int64) {
+	next := m.automaton.Next[state][atom][act]
+	if m.classes.isDead(next) {
+		return 0, ErrNotFound
+	}
+	return next, OK
+}
 
 // LeastAutomaton returns the automaton with the fewest states.
-func LeastAutomaton(a Automaton) (Automaton, int64) { return Automaton{}, 0 }
+func LeastAutomaton(a Automaton) (Automaton, int64) {
+	if !ValidAutomaton(a) {
+		return Automaton{}, ErrInvalid
+	}
+	m := merger{a, classesOf(a)}
+	least, _, code := found(a.Sig, 0, rules[int64, int64]{m.classes.of, m.accepts, m.next})
+	return least, code
+}
+
+// mixer runs two automata side by side.
+type mixer struct {
+	left, right Automaton
+	mix         int64
+}
+
+// both is a state of either automaton, or -1.
+type both struct {
+	left, right int64
+}
+
+func (b both) key() both { return b }
+
+func (m mixer) accepts(s both, atom int64) bool {
+	left, right := acceptsAt(m.left, s.left, atom), acceptsAt(m.right, s.right, atom)
+	switch m.mix {
+	case MixUnion:
+		return left || right
+	case MixMeet:
+		return left && right
+	}
+	return left && !right
+}
+
+func (m mixer) next(s both, atom, act int64) (both, int64) {
+	next := both{nextOf(m.left, s.left, atom, act), nextOf(m.right, s.right, atom, act)}
+	if next.left < 0 && next.right < 0 {
+		return next, ErrNotFound
+	}
+	return next, OK
+}
 
 // MixAutomata returns the automaton of pairs.
-func MixAutomata(a, b Automaton, mix int64) (Automaton, int64) { return Automaton{}, 0 }
+func MixAutomata(a, b Automaton, mix int64) (Automaton, int64) {
+	if !ValidAutomaton(a) || !ValidAutomaton(b) {
+		return Automaton{}, ErrInvalid
+	}
+	if mix < MixUnion || mix > MixMinus || a.Sig != b.Sig {
+		return Automaton{}, ErrRange
+	}
+	m := mixer{a, b, mix}
+	mixed, _, code := found(a.Sig, both{}, rules[both, both]{both.key, m.accepts, m.next})
+	return mixed, code
+}
 
 // AcceptedCount returns the number of accepted words of a length.
-func AcceptedCount(a Automaton, length int64) (int64, int64) { return 0, 0 }
+func AcceptedCount(a Automaton, length int64) (int64, int64) {
+	if !ValidAutomaton(a) {
+		return 0, ErrInvalid
+	}
+	if !below(length, MaxWord+1) {
+		return 0, ErrRange
+	}
+	return newCounter(a, length).words(0, length), OK
+}
 
 // FirstAccepted returns the first accepted word.
-func FirstAccepted(a Automaton) (Word, int64) { return Word{}, 0 }
+func FirstAccepted(a Automaton) (Word, int64) {
+	if !ValidAutomaton(a) {
+		return Word{}, ErrInvalid
+	}
+	c := newCounter(a, MaxWord)
+	for length := range int64(MaxWord + 1) {
+		if c.words(0, length) > 0 {
+			return c.firstWord(length), OK
+		}
+	}
+	if classesOf(a).isDead(0) {
+		return Word{}, ErrNotFound
+	}
+	return Word{}, ErrLimit
+}
+
+// atomCondition returns the condition of an atom.
+func atomCondition(g Sig, atom int64) node {
+	var product node = oneNode{}
+	for i := range g.Tests {
+		var factor node = testNode{i}
+		if atom>>i&1 == 0 {
+			factor = newNot(factor)
+		}
+		if i == 0 {
+			product = factor
+		} else {
+			product = newDot(product, factor)
+		}
+	}
+	return product
+}
+
+// remover removes the states of an automaton, and keeps the tidy expressions
+// of the steps between the others, and of what they accept.
+type remover struct {
+	steps [][]node
+	ends  []node
+}
+
+// newRemover returns the remover of an automaton. 8 atoms and 4 actions have
+// sums of at most 353 nodes, so that no limit can be exceeded yet.
+func newRemover(a Automaton) remover {
+	var r remover
+	for i := range a.Accept {
+		row, end := zeros(len(a.Accept)), node(zeroNode{})
+		for atom, accepts := range a.Accept[i] {
+			condition := atomCondition(a.Sig, int64(atom))
+			if accepts {
+				end = newSum(end, condition)
+			}
+			for act, k := range a.Next[i][atom] {
+				if k >= 0 {
+					row[k] = newSum(row[k], newDot(condition, actNode{int64(act)}))
+				}
+			}
+		}
+		for k := range row {
+			row[k] = tidy(row[k])
+		}
+		r.steps, r.ends = append(r.steps, row), append(r.ends, tidy(end))
+	}
+	return r
+}
+
+func zeros(count int) []node {
+	list := make([]node, count)
+	for i := range list {
+		list[i] = zeroNode{}
+	}
+	return list
+}
+
+// remove removes the last state, and reports whether no limit is exceeded.
+func (r remover) remove(last int) bool {
+	loop := r.steps[last][last]
+	for i := range last {
+		to, ok := r.steps[i][last], true
+		for k := range last {
+			if r.steps[i][k], ok = detour(r.steps[i][k], to, loop, r.steps[last][k]); !ok {
+				return false
+			}
+		}
+		if r.ends[i], ok = detour(r.ends[i], to, loop, r.ends[last]); !ok {
+			return false
+		}
+	}
+	return true
+}
+
+// detour adds to a direct way the one to a removed state, round it any number
+// of times, and on from there. All nodes are tidy; it is false if the sum has
+// too many nodes before it is made tidy.
+func detour(direct, to, loop, on node) (node, bool) {
+	if newSum(direct, newDot(to, newDot(newStar(loop), on))).size() > MaxDerived {
+		return zeroNode{}, false
+	}
+	return tidySum(direct, tidyDot(to, tidyDot(tidyStar(loop), on))), true
+}
 
 // ExprOf returns an expression of an automaton.
-func ExprOf(a Automaton) (Expr, int64) { return Expr{}, 0 }
+func ExprOf(a Automaton) (Expr, int64) {
+	if !ValidAutomaton(a) {
+		return Expr{}, ErrInvalid
+	}
+	r := newRemover(a)
+	for last := len(a.Accept) - 1; last > 0; last-- {
+		if !r.remove(last) {
+			return Expr{}, ErrLimit
+		}
+	}
+	loop, end := r.steps[0][0], r.ends[0]
+	if newDot(newStar(loop), end).size() > MaxDerived {
+		return Expr{}, ErrLimit
+	}
+	result := exprOf(tidyDot(tidyStar(loop), end))
+	if !ValidExpr(a.Sig, result) {
+		return Expr{}, ErrLimit
+	}
+	return result, OK
+}

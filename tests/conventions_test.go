@@ -5,6 +5,7 @@ import (
 	"math"
 	"math/rand"
 	"reflect"
+	"slices"
 	"strings"
 	"testing"
 
@@ -197,6 +198,7 @@ func exprCalls(g impl.Sig, e impl.Expr, w impl.Word, by []impl.Expr) []call {
 		{"EmptyAt", impl.EmptyAt, []any{g, e, int64(0)}},
 		{"TidyExpr", impl.TidyExpr, []any{g, e}},
 		{"Derive", impl.Derive, []any{g, e, int64(1), int64(0)}},
+		{"DeriveWord", impl.DeriveWord, []any{g, e, w}},
 		{"StatesOf", impl.StatesOf, []any{g, e}},
 		{"AutomatonOf", impl.AutomatonOf, []any{g, e}},
 	}
@@ -214,6 +216,23 @@ func wordCalls(g impl.Sig, v, w impl.Word, text string) []call {
 		{"ReadExpr", impl.ReadExpr, []any{g, text}},
 		{"FuseWords", impl.FuseWords, []any{g, v, w}},
 		{"ReverseWord", impl.ReverseWord, []any{g, w}},
+		{"ReadAutomaton", impl.ReadAutomaton, []any{text}},
+	}
+}
+
+// automatonCalls are calls of all functions with automata.
+func automatonCalls(a, b impl.Automaton, w impl.Word, number int64) []call {
+	return []call{
+		{"ValidAutomaton", impl.ValidAutomaton, []any{a}},
+		{"SameAutomaton", impl.SameAutomaton, []any{a, b}},
+		{"AutomatonText", impl.AutomatonText, []any{a}},
+		{"RunAutomaton", impl.RunAutomaton, []any{a, w}},
+		{"LeastAutomaton", impl.LeastAutomaton, []any{a}},
+		{"MixAutomata", impl.MixAutomata, []any{a, b, number}},
+		{"MixAutomata, the other way", impl.MixAutomata, []any{b, a, number}},
+		{"AcceptedCount", impl.AcceptedCount, []any{a, number}},
+		{"FirstAccepted", impl.FirstAccepted, []any{a}},
+		{"ExprOf", impl.ExprOf, []any{a}},
 	}
 }
 
@@ -238,6 +257,34 @@ func TestPurity(t *testing.T) {
 	checkPure(t, call{"ReplaceActions", impl.ReplaceActions, []any{sig12, repeated, []impl.Expr{x, x}}})
 	checkPure(t, call{"WordsUpTo", impl.WordsUpTo, []any{sig34, mustExpr(t, sig34, "((t0 + a0) + (a1 t2))"), int64(10)}})
 	checkPure(t, call{"TidyExpr", impl.TidyExpr, []any{sig12, mustExpr(t, sig12, "(~(t0 + 0) + ((a0 a1) ~t0*))")}})
+}
+
+// TestPurityOfAutomata: nothing that is made of automata shares their rows.
+func TestPurityOfAutomata(t *testing.T) {
+	r := rand.New(rand.NewSource(15))
+	for i := range 120 {
+		g := []impl.Sig{sig12, sig11, {Tests: 2}, sig00}[i%4]
+		a, b, w := randomAutomaton(r, g, 1+i%5), randomAutomaton(r, g, 1+i%3), impl.Word{Atoms: []int64{0}}
+		if g.Actions > 0 {
+			w = randomWord(r, g, i%5)
+		}
+		for _, c := range automatonCalls(a, b, w, int64(i%5)) {
+			checkPure(t, c)
+		}
+		for _, c := range wordCalls(g, w, w, impl.AutomatonText(a)) {
+			checkPure(t, c)
+		}
+	}
+	for name, bad := range badAutomata() {
+		for _, c := range automatonCalls(bad, bad, impl.Word{Atoms: []int64{0}}, 1) {
+			checkPure(t, c)
+		}
+		checkPure(t, call{"MixAutomata with " + name, impl.MixAutomata, []any{chain(2, 0), bad, int64(1)}})
+	}
+	long, loop := chain(60, 0), mustAutomaton(t, "automaton 0 1\nstate +:0\n")
+	for _, c := range automatonCalls(long, loop, impl.Word{Atoms: []int64{0, 0}, Acts: []int64{0}}, impl.MixUnion) {
+		checkPure(t, c)
+	}
 }
 
 // TestPurityOfInvalid: what is not valid is not modified either.
@@ -278,23 +325,36 @@ func isZeroOf(v reflect.Value) bool {
 // and for what is not valid there is no other code than ErrInvalid.
 func TestZeroWithErrors(t *testing.T) {
 	g, w := impl.Sig{Tests: 2, Actions: 2}, impl.Word{Atoms: []int64{0}}
-	total := map[string]bool{"IsCondition": true, "SameExpr": true, "ExprSize": true}
 	for name, e := range badExprs() {
 		for _, c := range exprCalls(g, e, w, []impl.Expr{one, one}) {
-			if total[c.name] {
-				continue
+			checkInvalid(t, name, c)
+		}
+	}
+	for name, a := range badAutomata() {
+		for _, number := range []int64{1, 99} {
+			for _, c := range automatonCalls(a, a, w, number) {
+				checkInvalid(t, name, c)
 			}
-			results := reflect.ValueOf(c.fn).Call(values(c.args, 0))
-			last := results[len(results)-1]
-			if len(results) > 1 {
-				want(t, c.name+" of "+name, last.Int(), impl.ErrInvalid)
-				results = results[:len(results)-1]
-			}
-			for _, v := range results {
-				if !isZeroOf(v) {
-					t.Errorf("%s of %s: %v is not zero", c.name, name, v)
-				}
-			}
+			checkInvalid(t, name, call{"MixAutomata", impl.MixAutomata, []any{chain(1, 0), a, number}})
+		}
+	}
+}
+
+// checkInvalid makes a call for which there is no other answer than ErrInvalid.
+func checkInvalid(t *testing.T, name string, c call) {
+	t.Helper()
+	if c.name == "IsCondition" || strings.HasPrefix(c.name, "Same") || c.name == "ExprSize" { // these have an answer for all arguments
+		return
+	}
+	results := reflect.ValueOf(c.fn).Call(values(c.args, 0))
+	last := results[len(results)-1]
+	if len(results) > 1 {
+		want(t, c.name+" of "+name, last.Int(), impl.ErrInvalid)
+		results = results[:len(results)-1]
+	}
+	for _, v := range results {
+		if !isZeroOf(v) {
+			t.Errorf("%s of %s: %v is not zero", c.name, name, v)
 		}
 	}
 }
@@ -332,6 +392,7 @@ func TestLargeArguments(t *testing.T) {
 			}
 		}
 	}
+	largeAutomata(t)
 	numbers := make([]int64, 240_000)
 	long := impl.Word{Atoms: numbers, Acts: numbers[1:]}
 	_, first := impl.ReverseWord(sig12, long)
@@ -346,20 +407,50 @@ func TestLargeArguments(t *testing.T) {
 	}
 	_, fourth = impl.ReplaceActions(sig12, one, ones)
 	want(t, "very many valid elements", fourth, impl.ErrRange)
-	for _, part := range []string{"~", "(", "1", "0 a0 ", " a0 0", "*", "\xff"} {
+	for _, part := range []string{"~", "(", "1", "0 a0 ", " a0 0", "*", "\xff", "state +\n"} {
 		_, first := impl.ReadExpr(sig12, strings.Repeat(part, 999_999/len(part)))
 		_, second := impl.ReadWord(sig12, "0"+strings.Repeat(part, 999_999/len(part)))
-		want(t, "long texts", list(first, second), list(impl.ErrRange, impl.ErrSyntax))
+		_, third := impl.ReadAutomaton("automaton 0 0\n" + strings.Repeat(part, 999_980/len(part)))
+		want(t, "long texts", list(first, second, third), list(impl.ErrRange, impl.ErrSyntax, impl.ErrSyntax))
 	}
 	ends := []int64{math.MinInt64, -1, math.MaxInt64}
 	for _, x := range ends {
 		for _, y := range ends {
 			g := impl.Sig{Tests: x, Actions: y}
-			for _, c := range exprCalls(g, leaf(x, y), impl.Word{Atoms: []int64{x}, Acts: []int64{y}}, nil) {
+			w := impl.Word{Atoms: []int64{x}, Acts: []int64{y}}
+			a := impl.Automaton{Sig: g, Accept: [][]bool{{true}}, Next: [][][]int64{{{y}}}}
+			b := impl.Automaton{Sig: sig01, Accept: a.Accept, Next: a.Next}
+			calls := append(exprCalls(g, leaf(x, y), w, nil), automatonCalls(a, b, w, x)...)
+			calls = append(calls, automatonCalls(b, chain(1, 0), w, x)...)
+			calls = append(calls, automatonCalls(chain(1, 0), chain(2, 0), w, x)...)
+			for _, c := range calls {
 				reflect.ValueOf(c.fn).Call(values(c.args, 0))
 			}
 		}
 	}
+}
+
+// largeAutomata: automata that have nearly a million elements, and words that have.
+func largeAutomata(t *testing.T) {
+	t.Helper()
+	w := impl.Word{Atoms: []int64{0}}
+	many := impl.Automaton{Sig: sig01, Accept: slices.Repeat([][]bool{{true}}, 150_000), Next: slices.Repeat([][][]int64{{{0}}}, 150_000)}
+	rows := impl.Automaton{Sig: sig01, Accept: [][]bool{make([]bool, 400_000)}, Next: [][][]int64{make([][]int64, 400_000)}}
+	wide := impl.Automaton{Sig: sig01, Accept: [][]bool{{true}}, Next: [][][]int64{{make([]int64, 900_000)}}}
+	tests := impl.Automaton{Sig: impl.Sig{Tests: 18}, Accept: [][]bool{make([]bool, 1<<18)}, Next: [][][]int64{make([][]int64, 1<<18)}}
+	for i, a := range []impl.Automaton{many, rows, wide, tests} {
+		want(t, "large automata", list(impl.SameAutomaton(a, a), impl.SameAutomaton(a, chain(1, 0))), list(true, false))
+		for _, c := range append(automatonCalls(a, a, w, 1), automatonCalls(chain(1, 0), a, w, 1)[5:7]...) {
+			results := reflect.ValueOf(c.fn).Call(values(c.args, 0))
+			if len(results) > 1 {
+				want(t, fmt.Sprint(c.name, " of ", i), results[len(results)-1].Int(), impl.ErrInvalid)
+			}
+		}
+	}
+	numbers := make([]int64, 240_000)
+	_, code := impl.RunAutomaton(chain(1, 0), impl.Word{Atoms: numbers, Acts: numbers[1:]})
+	_, second := impl.DeriveWord(sig01, act(0), impl.Word{Atoms: numbers, Acts: numbers[1:]})
+	want(t, "long words", list(code, second), list(impl.ErrInvalid, impl.ErrInvalid))
 }
 
 // TestRandomBytes: texts of all kinds are read, or refused by ErrSyntax; what
