@@ -43,15 +43,47 @@ func TidyExpr(g Sig, e Expr) (Expr, int64) {
 
 // tidy returns the tidy form of a node; that of a tidy node is the node itself.
 func tidy(n node) node {
+	return partsOf(n).whole
+}
+
+// tidyParts are the tidy forms of a node and of its kids, and so on, where they
+// are not the same: nil stands for those of a tidy node, whose parts are tidy.
+type tidyParts struct {
+	whole       node
+	left, right *tidyParts
+}
+
+// partsOf finds the tidy forms; an only kid is the left one.
+func partsOf(n node) *tidyParts {
+	p := &tidyParts{whole: n}
 	switch x := n.(type) {
 	case sumNode:
-		return tidySum(tidy(x.left), tidy(x.right))
+		p.left, p.right = partsOf(x.left), partsOf(x.right)
+		p.whole = tidySum(p.left.whole, p.right.whole)
 	case dotNode:
-		return tidyDot(tidy(x.left), tidy(x.right))
+		p.left, p.right = partsOf(x.left), partsOf(x.right)
+		p.whole = tidyDot(p.left.whole, p.right.whole)
 	case starNode:
-		return tidyStar(tidy(x.kid))
+		p.left = partsOf(x.kid)
+		p.whole = tidyStar(p.left.whole)
 	}
-	return n
+	return p
+}
+
+// of returns the tidy form of n, whose parts these are.
+func (p *tidyParts) of(n node) node {
+	if p == nil {
+		return n
+	}
+	return p.whole
+}
+
+// kids returns the parts of both kids.
+func (p *tidyParts) kids() (*tidyParts, *tidyParts) {
+	if p == nil {
+		return nil, nil
+	}
+	return p.left, p.right
 }
 
 // summand is a part of a sum with its text, by which it is ordered.
@@ -88,19 +120,50 @@ func summands(n node, list []summand) []summand {
 
 // tidyDot returns the tidy form of the product of two tidy nodes.
 func tidyDot(left, right node) node {
-	if isZero(left) || isZero(right) {
-		return zeroNode{}
+	return productOf(left).times(right).whole()
+}
+
+// product is a tidy node whose nodes are still to be made: the factors in front
+// of the last node, which may be a product too. It grows at its end, where its
+// nodes would have to be made anew each time.
+type product struct {
+	front []node
+	last  node
+	nodes int64
+}
+
+func productOf(n node) product {
+	return product{nil, n, n.size()}
+}
+
+// times returns the tidy product with a tidy node behind it; p itself must not
+// be used any more.
+func (p product) times(right node) product {
+	switch {
+	case isZero(p.last) || isZero(right):
+		return productOf(zeroNode{})
+	case isOne(p.last):
+		return productOf(right)
+	case isOne(right):
+		return p
 	}
-	if isOne(left) {
-		return right
+	nodes := 1 + p.nodes + right.size()
+	for {
+		x, ok := p.last.(dotNode)
+		if !ok {
+			return product{append(p.front, p.last), right, nodes}
+		}
+		p.front, p.last = append(p.front, x.left), x.right
 	}
-	if isOne(right) {
-		return left
+}
+
+// whole makes the nodes.
+func (p product) whole() node {
+	n := p.last
+	for _, factor := range slices.Backward(p.front) {
+		n = newDot(factor, n)
 	}
-	if x, ok := left.(dotNode); ok {
-		return tidyDot(x.left, tidyDot(x.right, right))
-	}
-	return newDot(left, right)
+	return n
 }
 
 func isZero(n node) bool {
@@ -144,75 +207,69 @@ func Derive(g Sig, e Expr, atom, act int64) (Expr, int64) {
 	if !below(atom, atomCount(g)) || !below(act, g.Actions) {
 		return Expr{}, ErrRange
 	}
-	n, ok := deriver{atom: atom, act: act}.derive(nodeOf(e))
+	n := nodeOf(e)
+	derived, ok := deriver{atom, act}.derive(n, partsOf(n))
 	if !ok {
 		return Expr{}, ErrLimit
 	}
-	return exprOf(n), OK
+	return exprOf(derived.whole()), OK
 }
 
-// deriver derives nodes by an atom and an action. All parts of a tidy node are
-// tidy, which need not be found again and again if it is known.
+// deriver derives nodes by an atom and an action.
 type deriver struct {
-	atom   int64
-	act    int64
-	isTidy bool
+	atom int64
+	act  int64
 }
 
-// tidied returns the tidy form of a part of the node that is derived.
-func (d deriver) tidied(n node) node {
-	if d.isTidy {
-		return n
-	}
-	return tidy(n)
-}
-
-// derive returns the tidy derivative of a node, and false if an expression
-// that has to be made tidy for it is too large.
-func (d deriver) derive(n node) (node, bool) {
+// derive returns the tidy derivative of a node with these parts, and false if
+// an expression that has to be made tidy for it is too large.
+func (d deriver) derive(n node, p *tidyParts) (product, bool) {
 	switch x := n.(type) {
 	case actNode:
 		if x.num == d.act {
-			return oneNode{}, true
+			return productOf(oneNode{}), true
 		}
 	case sumNode:
-		return d.deriveSum(x)
+		return d.deriveSum(x, p)
 	case dotNode:
-		return d.deriveDot(x)
+		return d.deriveDot(x, p)
 	case starNode:
-		kid, ok := d.derive(x.kid)
-		if !ok || 1+kid.size()+x.size() > MaxDerived {
-			return zeroNode{}, false
+		kidParts, _ := p.kids()
+		kid, ok := d.derive(x.kid, kidParts)
+		if !ok || 1+kid.nodes+x.size() > MaxDerived {
+			return product{}, false
 		}
-		return tidyDot(kid, d.tidied(x)), true
+		return kid.times(p.of(x)), true
 	}
-	return zeroNode{}, true
+	return productOf(zeroNode{}), true
 }
 
-func (d deriver) deriveSum(x sumNode) (node, bool) {
-	left, leftOK := d.derive(x.left)
-	right, rightOK := d.derive(x.right)
-	if !leftOK || !rightOK || 1+left.size()+right.size() > MaxDerived {
-		return zeroNode{}, false
+func (d deriver) deriveSum(x sumNode, p *tidyParts) (product, bool) {
+	leftParts, rightParts := p.kids()
+	left, leftOK := d.derive(x.left, leftParts)
+	right, rightOK := d.derive(x.right, rightParts)
+	if !leftOK || !rightOK || 1+left.nodes+right.nodes > MaxDerived {
+		return product{}, false
 	}
-	return tidySum(left, right), true
+	return productOf(tidySum(left.whole(), right.whole())), true
 }
 
-func (d deriver) deriveDot(x dotNode) (node, bool) {
-	left, ok := d.derive(x.left)
-	size := 1 + left.size() + x.right.size()
+func (d deriver) deriveDot(x dotNode, p *tidyParts) (product, bool) {
+	leftParts, rightParts := p.kids()
+	left, ok := d.derive(x.left, leftParts)
+	size := 1 + left.nodes + x.right.size()
 	if !ok || size > MaxDerived {
-		return zeroNode{}, false
+		return product{}, false
 	}
-	first := tidyDot(left, d.tidied(x.right))
+	first := left.times(rightParts.of(x.right))
 	if !emptyAt(x.left, d.atom) {
 		return first, true
 	}
-	second, ok := d.derive(x.right)
-	if !ok || 1+size+second.size() > MaxDerived {
-		return zeroNode{}, false
+	second, ok := d.derive(x.right, rightParts)
+	if !ok || 1+size+second.nodes > MaxDerived {
+		return product{}, false
 	}
-	return tidySum(first, second), true
+	return productOf(tidySum(first.whole(), second.whole())), true
 }
 
 // DeriveWord returns the derivative by all actions of a word.
@@ -221,15 +278,16 @@ func DeriveWord(g Sig, e Expr, w Word) (Expr, int64) {
 		return Expr{}, ErrInvalid
 	}
 	n := nodeOf(e)
+	parts := partsOf(n)
 	for i, act := range w.Acts {
-		// What has been derived once is tidy.
-		derived, ok := deriver{w.Atoms[i], act, i > 0}.derive(n)
+		derived, ok := deriver{w.Atoms[i], act}.derive(n, parts)
 		if !ok {
 			return Expr{}, ErrLimit
 		}
-		n = derived
+		// What has been derived once is tidy.
+		n, parts = derived.whole(), nil
 	}
-	return exprOf(tidy(n)), OK
+	return exprOf(parts.of(n)), OK
 }
 
 // rules tell how the states of an automaton behave that are still to be found.
@@ -295,14 +353,15 @@ func derivatives(g Sig, e Expr) (Automaton, []node, int64) {
 
 // nextDerivative derives a tidy node.
 func nextDerivative(n node, atom, act int64) (node, int64) {
-	derived, ok := deriver{atom, act, true}.derive(n)
-	switch {
-	case !ok:
-		return derived, ErrLimit
-	case isZero(derived):
-		return derived, ErrNotFound
+	derived, ok := deriver{atom, act}.derive(n, nil)
+	if !ok {
+		return nil, ErrLimit
 	}
-	return derived, OK
+	next := derived.whole()
+	if isZero(next) {
+		return nil, ErrNotFound
+	}
+	return next, OK
 }
 
 // StatesOf returns all derivatives of an expression.

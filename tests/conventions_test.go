@@ -236,6 +236,25 @@ func automatonCalls(a, b impl.Automaton, w impl.Word, number int64) []call {
 	}
 }
 
+// decisionCalls are calls of all functions of chapter 3.
+func decisionCalls(g impl.Sig, e, f impl.Expr, pairs []impl.Pair) []call {
+	return []call{
+		{"EqualExprs", impl.EqualExprs, []any{g, e, f}},
+		{"AtMost", impl.AtMost, []any{g, e, f}},
+		{"FirstDifference", impl.FirstDifference, []any{g, e, f}},
+		{"FindBisim", impl.FindBisim, []any{g, e, f}},
+		{"CheckBisim", impl.CheckBisim, []any{g, e, f, pairs}},
+		{"MeetExprs", impl.MeetExprs, []any{g, e, f}},
+		{"MinusExprs", impl.MinusExprs, []any{g, e, f}},
+		{"ResidualExpr", impl.ResidualExpr, []any{g, e, f}},
+		{"IsEmptyExpr", impl.IsEmptyExpr, []any{g, e}},
+		{"IsConditionLike", impl.IsConditionLike, []any{g, e}},
+		{"LeastExpr", impl.LeastExpr, []any{g, e}},
+		{"PrefixesOf", impl.PrefixesOf, []any{g, e}},
+		{"LengthsOf", impl.LengthsOf, []any{g, e}},
+	}
+}
+
 func TestPurity(t *testing.T) {
 	r := rand.New(rand.NewSource(8))
 	for range 120 {
@@ -287,6 +306,33 @@ func TestPurityOfAutomata(t *testing.T) {
 	}
 }
 
+// TestPurityOfDecisions: no pair and no expression that is told shares memory.
+func TestPurityOfDecisions(t *testing.T) {
+	r := rand.New(rand.NewSource(53))
+	for i := range 120 {
+		g := []impl.Sig{sig12, sig11, {Tests: 2}, sig00}[i%4]
+		e := randomExpr(r, g, 3)
+		f := equalTo(r, g, e)
+		if i%3 == 0 {
+			f = randomExpr(r, g, 3)
+		}
+		pairs, _ := impl.FindBisim(g, e, f)
+		for _, c := range decisionCalls(g, e, f, append(pairs, impl.Pair{Left: e, Right: e})) {
+			checkPure(t, c)
+		}
+		checkPure(t, call{"BisimText", impl.BisimText, []any{g, pairs}})
+		checkPure(t, call{"AllWords", impl.AllWords, []any{g}})
+	}
+	loops, many := mustExpr(t, sig11, dead(16)), bisimOf(sig11, mustExpr(t, sig11, dead(16)), mustExpr(t, sig11, dead(25)))
+	for _, f := range []impl.Expr{mustExpr(t, sig11, dead(25)), mustExpr(t, sig11, beyondStates["61 states"]), zero} {
+		for _, c := range decisionCalls(sig11, loops, f, many) {
+			checkPure(t, c)
+		}
+	}
+	checkPure(t, call{"CheckBisim", impl.CheckBisim, []any{sig11, one, one, []impl.Pair{largePair(800), largePair(801)}}})
+	checkPure(t, call{"BisimText", impl.BisimText, []any{sig11, []impl.Pair{largePair(800), {}}}})
+}
+
 // TestPurityOfInvalid: what is not valid is not modified either.
 func TestPurityOfInvalid(t *testing.T) {
 	g, w := impl.Sig{Tests: 2, Actions: 2}, impl.Word{Atoms: []int64{0}}
@@ -295,6 +341,10 @@ func TestPurityOfInvalid(t *testing.T) {
 			checkPure(t, c)
 		}
 		checkPure(t, call{"ReplaceActions", impl.ReplaceActions, []any{g, one, []impl.Expr{act(0), e}}})
+		for _, c := range append(decisionCalls(g, e, one, nil), decisionCalls(g, one, e, nil)...) {
+			checkPure(t, c)
+		}
+		checkPure(t, call{"CheckBisim", impl.CheckBisim, []any{g, one, one, []impl.Pair{{Left: one, Right: e}}}})
 	}
 	for _, bad := range badWords() {
 		for _, c := range wordCalls(sig12, bad, bad, "0 a0") {
@@ -326,8 +376,13 @@ func isZeroOf(v reflect.Value) bool {
 func TestZeroWithErrors(t *testing.T) {
 	g, w := impl.Sig{Tests: 2, Actions: 2}, impl.Word{Atoms: []int64{0}}
 	for name, e := range badExprs() {
-		for _, c := range exprCalls(g, e, w, []impl.Expr{one, one}) {
+		calls := append(exprCalls(g, e, w, []impl.Expr{one, one}), decisionCalls(g, e, one, []impl.Pair{{Left: one, Right: one}})...)
+		for _, c := range append(calls, decisionCalls(g, one, e, nil)[:8]...) {
 			checkInvalid(t, name, c)
+		}
+		for _, p := range []impl.Pair{{Left: e, Right: one}, {Left: one, Right: e}} {
+			checkInvalid(t, name, call{"CheckBisim", impl.CheckBisim, []any{g, one, one, []impl.Pair{p}}})
+			checkInvalid(t, name, call{"BisimText", impl.BisimText, []any{g, []impl.Pair{p}}})
 		}
 	}
 	for name, a := range badAutomata() {
@@ -346,7 +401,11 @@ func checkInvalid(t *testing.T, name string, c call) {
 	if c.name == "IsCondition" || strings.HasPrefix(c.name, "Same") || c.name == "ExprSize" { // these have an answer for all arguments
 		return
 	}
-	results := reflect.ValueOf(c.fn).Call(values(c.args, 0))
+	arguments := []reflect.Value{}
+	for _, a := range c.args {
+		arguments = append(arguments, reflect.ValueOf(a))
+	}
+	results := reflect.ValueOf(c.fn).Call(arguments)
 	last := results[len(results)-1]
 	if len(results) > 1 {
 		want(t, c.name+" of "+name, last.Int(), impl.ErrInvalid)
@@ -382,17 +441,16 @@ func TestLargeArguments(t *testing.T) {
 			list(sizes[name], conditions[name], true, false))
 		want(t, "another "+name, impl.SameExpr(e, nested(impl.EStar, 9_999, act(1))), false)
 		for _, c := range exprCalls(sig12, e, impl.Word{Atoms: []int64{0}}, []impl.Expr{one, e}) {
-			arguments := []reflect.Value{}
-			for _, a := range c.args {
-				arguments = append(arguments, reflect.ValueOf(a))
-			}
-			results := reflect.ValueOf(c.fn).Call(arguments)
-			if len(results) > 1 {
-				want(t, c.name+" of "+name, results[len(results)-1].Int(), impl.ErrInvalid)
-			}
+			checkInvalid(t, name, c)
 		}
+		for _, c := range append(decisionCalls(sig12, e, one, nil), decisionCalls(sig12, one, e, nil)[:8]...) {
+			checkInvalid(t, name, c)
+		}
+		checkInvalid(t, name, call{"CheckBisim", impl.CheckBisim, []any{sig12, one, one, []impl.Pair{{Left: one, Right: e}}}})
+		checkInvalid(t, name, call{"BisimText", impl.BisimText, []any{sig12, []impl.Pair{{Left: e, Right: one}}}})
 	}
 	largeAutomata(t)
+	largeLists(t)
 	numbers := make([]int64, 240_000)
 	long := impl.Word{Atoms: numbers, Acts: numbers[1:]}
 	_, first := impl.ReverseWord(sig12, long)
@@ -421,6 +479,9 @@ func TestLargeArguments(t *testing.T) {
 			a := impl.Automaton{Sig: g, Accept: [][]bool{{true}}, Next: [][][]int64{{{y}}}}
 			b := impl.Automaton{Sig: sig01, Accept: a.Accept, Next: a.Next}
 			calls := append(exprCalls(g, leaf(x, y), w, nil), automatonCalls(a, b, w, x)...)
+			calls = append(calls, decisionCalls(g, leaf(x, y), leaf(y, x), []impl.Pair{{Left: leaf(x, y), Right: one}})...)
+			calls = append(calls, decisionCalls(g, one, one, []impl.Pair{{Left: one, Right: one}})...)
+			calls = append(calls, call{"BisimText", impl.BisimText, []any{g, []impl.Pair{{Left: one, Right: one}}}}, call{"AllWords", impl.AllWords, []any{g}})
 			calls = append(calls, automatonCalls(b, chain(1, 0), w, x)...)
 			calls = append(calls, automatonCalls(chain(1, 0), chain(2, 0), w, x)...)
 			for _, c := range calls {
@@ -451,6 +512,35 @@ func largeAutomata(t *testing.T) {
 	_, code := impl.RunAutomaton(chain(1, 0), impl.Word{Atoms: numbers, Acts: numbers[1:]})
 	_, second := impl.DeriveWord(sig01, act(0), impl.Word{Atoms: numbers, Acts: numbers[1:]})
 	want(t, "long words", list(code, second), list(impl.ErrInvalid, impl.ErrInvalid))
+}
+
+// largeLists: as many pairs, and as large sides, as there may be.
+func largeLists(t *testing.T) {
+	t.Helper()
+	small := slices.Repeat([]impl.Pair{{Left: one, Right: one}}, 300_000)
+	_, code := impl.CheckBisim(sig00, one, one, small)
+	want(t, "very many pairs", list(code, len(impl.BisimText(sig00, small))), list(impl.ErrRange, 6*len(small)))
+	all := mustExpr(t, sig12, "(a0 + a1)")
+	products, chains, sums := all, one, zero
+	for range 260 {
+		products, chains = tree(impl.EDot, products, act(0)), tree(impl.EDot, one, chains)
+	}
+	for i := range 55 {
+		step := act(int64(i / 16 % 2))
+		for bit := 1; bit < 16; bit *= 2 {
+			step = tree(impl.EDot, act(int64(i/bit%2)), step)
+		}
+		sums = tree(impl.ESum, step, sums)
+	}
+	for name, e := range map[string]impl.Expr{"products": products, "chains": chains, "sums": sums} {
+		pairs := []impl.Pair{}
+		for i := range 400 { // all sides are different, but have nearly the same size
+			last := tree(impl.EDot, act(int64(i%2)), nested(impl.ENot, i/2, test(0)))
+			pairs = append(pairs, impl.Pair{Left: tree(impl.ESum, e, last), Right: tree(impl.ESum, last, e)})
+		}
+		_, code := impl.CheckBisim(sig12, one, one, pairs)
+		want(t, "large sides, "+name, code, impl.OK)
+	}
 }
 
 // TestRandomBytes: texts of all kinds are read, or refused by ErrSyntax; what
