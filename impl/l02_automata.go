@@ -487,14 +487,19 @@ func SameAutomaton(a, b Automaton) bool {
 		slices.EqualFunc(a.Next, b.Next, sameRows)
 }
 
+// writeSig writes how a text begins that names its signature.
+func writeSig(out *strings.Builder, before string, g Sig) {
+	writeNumber(out, before, g.Tests)
+	writeNumber(out, " ", g.Actions)
+}
+
 // AutomatonText returns the text of an automaton.
 func AutomatonText(a Automaton) string {
 	if !ValidAutomaton(a) {
 		return ""
 	}
 	var out strings.Builder
-	writeNumber(&out, "automaton ", a.Sig.Tests)
-	writeNumber(&out, " ", a.Sig.Actions)
+	writeSig(&out, "automaton ", a.Sig)
 	out.WriteString("\n")
 	for s, accepts := range a.Accept {
 		out.WriteString("state")
@@ -532,14 +537,21 @@ func ReadAutomaton(text string) (Automaton, int64) {
 	return a, OK
 }
 
+// sig reads how a text begins that names its signature, valid or not.
+func (p *parser) sig(before string) Sig {
+	var g Sig
+	p.expect(before)
+	g.Tests = p.number()
+	p.expect(" ")
+	g.Actions = p.number()
+	return g
+}
+
 // automaton reads an automaton, whose states may still lead to others that do
 // not exist.
 func (p *parser) automaton() Automaton {
 	var a Automaton
-	p.expect("automaton ")
-	a.Sig.Tests = p.number()
-	p.expect(" ")
-	a.Sig.Actions = p.number()
+	a.Sig = p.sig("automaton ")
 	p.expect("\n")
 	if !ValidSig(a.Sig) {
 		p.fail()

@@ -255,6 +255,62 @@ func decisionCalls(g impl.Sig, e, f impl.Expr, pairs []impl.Pair) []call {
 	}
 }
 
+// equationCalls are calls of all functions of chapter 4 without proofs.
+func equationCalls(g impl.Sig, e, f impl.Expr, tests, acts []impl.Expr, path []int64) []call {
+	q := impl.Equation{Left: e, Right: f}
+	return []call{
+		{"ValidEquation", impl.ValidEquation, []any{g, q}},
+		{"EquationText", impl.EquationText, []any{g, q}},
+		{"ReadEquation", impl.ReadEquation, []any{g, impl.ExprText(g, e) + " = " + impl.ExprText(g, f)}},
+		{"Substitute", impl.Substitute, []any{g, e, tests, acts}},
+		{"FitExpr", impl.FitExpr, []any{g, e, f}},
+		{"FitExpr of the same", impl.FitExpr, []any{g, e, e}},
+		{"SubtermAt", impl.SubtermAt, []any{g, e, path}},
+		{"ReplaceAt", impl.ReplaceAt, []any{g, e, path, f}},
+		{"StepsFrom", impl.StepsFrom, []any{g, e}},
+		{"SearchProof", impl.SearchProof, []any{g, q, int64(2)}},
+	}
+}
+
+// proofCalls are calls of all functions with proofs.
+func proofCalls(p, q impl.Proof, k int64, e impl.Expr, s impl.ProofStep) []call {
+	return []call{
+		{"ValidProof", impl.ValidProof, []any{p}},
+		{"SameProof", impl.SameProof, []any{p, q}},
+		{"ProofText", impl.ProofText, []any{p}},
+		{"ApplyStep", impl.ApplyStep, []any{p, k, e, s}},
+		{"CheckProof", impl.CheckProof, []any{p}},
+		{"TrimProof", impl.TrimProof, []any{p}},
+		{"JoinProofs", impl.JoinProofs, []any{p, q}},
+		{"JoinProofs, the other way", impl.JoinProofs, []any{q, p}},
+		{"AddInstance", impl.AddInstance, []any{p, k, s.Tests, s.Acts}},
+		{"InlineClaim", impl.InlineClaim, []any{p, k}},
+	}
+}
+
+// invalidCalls are calls with an expression of chapter 4 that is no expression.
+func invalidCalls(g impl.Sig, e impl.Expr) []call {
+	list := []call{
+		{"Substitute, a test", impl.Substitute, []any{g, one, []impl.Expr{one, e}, []impl.Expr{}}},
+		{"Substitute, an action", impl.Substitute, []any{g, one, []impl.Expr{}, []impl.Expr{one, e}}},
+		{"FitExpr", impl.FitExpr, []any{g, act(0), e}},
+		{"ReplaceAt", impl.ReplaceAt, []any{g, one, []int64{}, e}},
+	}
+	for _, c := range append(equationCalls(g, e, one, nil, nil, nil), equationCalls(g, one, e, nil, nil, nil)...) {
+		if slices.Contains([]string{"ValidEquation", "EquationText", "SearchProof"}, c.name) {
+			list = append(list, c)
+		}
+	}
+	step := impl.ProofStep{Use: 2, Back: true, Acts: []impl.Expr{e}}
+	for _, c := range []impl.Claim{{Left: e, Right: one, Rule: impl.ClSteps}, {Left: one, Right: e, Rule: impl.ClLeft}, {Left: one, Right: one, Rule: impl.ClSteps, Steps: []impl.ProofStep{step}}} {
+		list = append(list, proofCalls(impl.Proof{Sig: g, Claims: []impl.Claim{c}}, impl.Proof{Sig: g}, 0, one, impl.ProofStep{Use: 20})...)
+	}
+	return append(list, call{"ApplyStep", impl.ApplyStep, []any{impl.Proof{Sig: g}, int64(0), e, impl.ProofStep{Use: 20}}},
+		call{"ApplyStep", impl.ApplyStep, []any{impl.Proof{Sig: g}, int64(0), one, step}},
+		call{"AddInstance", impl.AddInstance, []any{impl.Proof{Sig: g}, int64(0), []impl.Expr{}, []impl.Expr{e}}},
+		call{"StepsFrom", impl.StepsFrom, []any{g, e}}, call{"SubtermAt", impl.SubtermAt, []any{g, e, []int64{}}})
+}
+
 func TestPurity(t *testing.T) {
 	r := rand.New(rand.NewSource(8))
 	for range 120 {
@@ -333,6 +389,51 @@ func TestPurityOfDecisions(t *testing.T) {
 	checkPure(t, call{"BisimText", impl.BisimText, []any{sig11, []impl.Pair{largePair(800), {}}}})
 }
 
+// TestPurityOfProofs: no expression, step or proof that is told shares memory.
+func TestPurityOfProofs(t *testing.T) {
+	r := rand.New(rand.NewSource(69))
+	for i := range 50 {
+		p, q := randomProof(r, 1+i%2), randomProof(r, i%3)
+		e := randomExpr(r, sig22, 1+i%4)
+		s, _ := randomMove(r, p, e)
+		k := int64(len(p.Claims) - 1 - i%2)
+		for _, c := range proofCalls(p, q, k, e, s) {
+			checkPure(t, c)
+		}
+		checkPure(t, call{"ApplyStep", impl.ApplyStep, []any{p, int64(len(p.Claims)), e, s}})
+		left, right := p.Claims[max(0, k)].Left, p.Claims[max(0, k)].Right
+		tests, acts := partsFor(r, sig22, 2)
+		checkPure(t, call{"AddInstance", impl.AddInstance, []any{p, k, tests[:fullLength("t", left, right)], acts[:fullLength("a", left, right)]}})
+		for _, c := range equationCalls(sig22, left, right, tests, acts, s.Path) {
+			checkPure(t, c)
+		}
+		for _, c := range equationCalls(sig22, e, one, tests, acts, s.Path) {
+			checkPure(t, c)
+		}
+		checkPure(t, call{"FitExpr", impl.FitExpr, []any{sig22, left, instance(left, tests, acts)}})
+	}
+	p, x := mustProof(t, someClaims...), mustExpr(t, sig12, "(a0 (t0 + ~t0))")
+	for k := range int64(8) {
+		for _, c := range proofCalls(p, p, k, x, impl.ProofStep{Use: 2, Back: true, Path: []int64{1}, Acts: []impl.Expr{x.Kids[1]}}) {
+			checkPure(t, c)
+		}
+	}
+	checkPure(t, call{"Substitute", impl.Substitute, []any{sig12, mustExpr(t, sig12, "((a0 + a0) (t0 t0))"), []impl.Expr{tree(impl.ENot, one)}, []impl.Expr{x}}})
+	checkPure(t, call{"FitExpr", impl.FitExpr, []any{sig12, mustExpr(t, wholeSig, "(a2 + a0)"), tree(impl.ESum, x, x)}})
+	for _, path := range [][]int64{{}, {1}, {1, 1}, {1, 1, 0}, {2}} {
+		checkPure(t, call{"ReplaceAt", impl.ReplaceAt, []any{sig12, x, path, tree(impl.ESum, one, test(0))}})
+		checkPure(t, call{"SubtermAt", impl.SubtermAt, []any{sig12, x, path}})
+	}
+	for depth := range int64(5) {
+		checkPure(t, call{"SearchProof", impl.SearchProof, []any{sig12, mustEquation(t, sig12, "(1 (a0 a1)) = ((a0 a1) 1)"), depth}})
+	}
+	checkPure(t, call{"Axioms", impl.Axioms, nil})
+	checkPure(t, call{"StandardProof", impl.StandardProof, nil})
+	for _, text := range []string{standardText, strings.Join(someClaims, "\n") + "\n", "proof 0 0\n", "proof", ""} {
+		checkPure(t, call{"ReadProof", impl.ReadProof, []any{text}})
+	}
+}
+
 // TestPurityOfInvalid: what is not valid is not modified either.
 func TestPurityOfInvalid(t *testing.T) {
 	g, w := impl.Sig{Tests: 2, Actions: 2}, impl.Word{Atoms: []int64{0}}
@@ -341,6 +442,9 @@ func TestPurityOfInvalid(t *testing.T) {
 			checkPure(t, c)
 		}
 		checkPure(t, call{"ReplaceActions", impl.ReplaceActions, []any{g, one, []impl.Expr{act(0), e}}})
+		for _, c := range invalidCalls(g, e) {
+			checkPure(t, c)
+		}
 		for _, c := range append(decisionCalls(g, e, one, nil), decisionCalls(g, one, e, nil)...) {
 			checkPure(t, c)
 		}
@@ -383,6 +487,16 @@ func TestZeroWithErrors(t *testing.T) {
 		for _, p := range []impl.Pair{{Left: e, Right: one}, {Left: one, Right: e}} {
 			checkInvalid(t, name, call{"CheckBisim", impl.CheckBisim, []any{g, one, one, []impl.Pair{p}}})
 			checkInvalid(t, name, call{"BisimText", impl.BisimText, []any{g, []impl.Pair{p}}})
+		}
+	}
+	for name, e := range badExprs() {
+		for _, c := range invalidCalls(g, e) {
+			checkInvalid(t, name, c)
+		}
+	}
+	for name, p := range badProofs(t) {
+		for _, c := range proofCalls(p, impl.Proof{}, 99, zero, impl.ProofStep{Use: -40}) {
+			checkInvalid(t, name, c)
 		}
 	}
 	for name, a := range badAutomata() {
@@ -448,9 +562,15 @@ func TestLargeArguments(t *testing.T) {
 		}
 		checkInvalid(t, name, call{"CheckBisim", impl.CheckBisim, []any{sig12, one, one, []impl.Pair{{Left: one, Right: e}}}})
 		checkInvalid(t, name, call{"BisimText", impl.BisimText, []any{sig12, []impl.Pair{{Left: e, Right: one}}}})
+		for _, c := range invalidCalls(sig12, e) {
+			checkInvalid(t, name, c)
+		}
+		checkInvalid(t, name, call{"FitExpr", impl.FitExpr, []any{sig12, e, one}})
+		checkInvalid(t, name, call{"Substitute", impl.Substitute, []any{sig12, e, []impl.Expr{}, []impl.Expr{}}})
 	}
 	largeAutomata(t)
 	largeLists(t)
+	largeProofs(t)
 	numbers := make([]int64, 240_000)
 	long := impl.Word{Atoms: numbers, Acts: numbers[1:]}
 	_, first := impl.ReverseWord(sig12, long)
@@ -483,6 +603,14 @@ func TestLargeArguments(t *testing.T) {
 			calls = append(calls, decisionCalls(g, one, one, []impl.Pair{{Left: one, Right: one}})...)
 			calls = append(calls, call{"BisimText", impl.BisimText, []any{g, []impl.Pair{{Left: one, Right: one}}}}, call{"AllWords", impl.AllWords, []any{g}})
 			calls = append(calls, automatonCalls(b, chain(1, 0), w, x)...)
+			calls = append(calls, equationCalls(g, leaf(x, y), leaf(y, x), []impl.Expr{leaf(y, x)}, []impl.Expr{leaf(x, y)}, []int64{x, y})...)
+			calls = append(calls, equationCalls(sig12, act(0), tree(impl.EStar, test(0)), []impl.Expr{one}, []impl.Expr{one}, []int64{x, y})...)
+			step := impl.ProofStep{Use: x, Path: []int64{y}, Tests: []impl.Expr{leaf(x, y)}}
+			for _, p := range []impl.Proof{{Sig: g, Claims: []impl.Claim{{Left: one, Right: one, Rule: impl.ClSteps}}}, {Sig: sig12, Claims: []impl.Claim{{Left: one, Right: one, Rule: x, Ref: y}}},
+				{Sig: sig12, Claims: []impl.Claim{{Left: one, Right: one, Rule: impl.ClSteps, Steps: []impl.ProofStep{step}}}}, {Sig: sig12, Claims: []impl.Claim{{Left: one, Right: one, Rule: impl.ClSteps}}}} {
+				calls = append(calls, proofCalls(p, p, x, one, impl.ProofStep{Use: -1})...)
+				calls = append(calls, proofCalls(p, impl.Proof{Sig: sig12}, y, leaf(x, y), step)...)
+			}
 			calls = append(calls, automatonCalls(chain(1, 0), chain(2, 0), w, x)...)
 			for _, c := range calls {
 				reflect.ValueOf(c.fn).Call(values(c.args, 0))
@@ -540,6 +668,43 @@ func largeLists(t *testing.T) {
 		}
 		_, code := impl.CheckBisim(sig12, one, one, pairs)
 		want(t, "large sides, "+name, code, impl.OK)
+	}
+}
+
+// largeProofs: proofs that have nearly a million elements, lists and paths that
+// have, and the work for proofs that are as large as they may be.
+func largeProofs(t *testing.T) {
+	t.Helper()
+	shown := impl.Claim{Left: one, Right: one, Rule: impl.ClSteps}
+	steps := impl.Claim{Left: one, Right: one, Rule: impl.ClSteps, Steps: make([]impl.ProofStep, 300_000)}
+	path := impl.Claim{Left: one, Right: one, Rule: impl.ClSteps, Steps: []impl.ProofStep{{Path: make([]int64, 900_000)}}}
+	lists := impl.Claim{Left: one, Right: one, Rule: impl.ClSteps, Steps: []impl.ProofStep{{Tests: make([]impl.Expr, 400_000), Acts: make([]impl.Expr, 400_000)}}}
+	for _, claims := range [][]impl.Claim{slices.Repeat([]impl.Claim{shown}, 200_000), {steps}, {path}, {lists}} {
+		p := impl.Proof{Sig: sig12, Claims: claims}
+		want(t, "a large proof", list(impl.SameProof(p, p), impl.SameProof(p, impl.Proof{Sig: sig12, Claims: []impl.Claim{shown}})), list(true, false))
+		for _, c := range append(proofCalls(p, impl.Proof{Sig: sig12}, 0, one, impl.ProofStep{Use: 20}), proofCalls(impl.Proof{Sig: sig12}, p, 0, one, impl.ProofStep{Use: 20})[6:8]...) {
+			checkInvalid(t, "a large proof", c)
+		}
+	}
+	many := slices.Repeat([]impl.Expr{one}, 400_000)
+	_, first := impl.Substitute(sig12, one, many, many)
+	_, second := impl.AddInstance(impl.Proof{Sig: sig12, Claims: []impl.Claim{shown}}, 0, many, many)
+	_, third := impl.ApplyStep(impl.Proof{Sig: sig12}, 0, one, impl.ProofStep{Use: 20, Tests: many})
+	_, fourth := impl.SubtermAt(sig12, one, make([]int64, 900_000))
+	want(t, "long lists", list(first, second, third, fourth), list(impl.OK, impl.ErrRange, impl.ErrInvalid, impl.ErrRange))
+	largest := mustExpr(t, sig12, balanced(50, "(t0 + a0)", " "))
+	full := impl.Claim{Left: largest, Right: largest, Rule: impl.ClSteps}
+	for range 30 {
+		there := impl.ProofStep{Use: 1, Path: []int64{0, 0, 0, 0, 0}, Acts: []impl.Expr{test(0), act(0)}}
+		back := impl.ProofStep{Use: 1, Back: true, Path: []int64{0, 0, 0, 0, 0}, Acts: []impl.Expr{test(0), act(0)}}
+		full.Steps = append(full.Steps, there, back)
+	}
+	p := impl.Proof{Sig: sig12, Claims: slices.Repeat([]impl.Claim{full}, 40)}
+	count, code := impl.CheckProof(p)
+	want(t, "the largest proof", list(count, code, len(impl.ProofText(p)) > impl.MaxProofText), list(40, impl.OK, true))
+	for k := range int64(40) {
+		q, code := impl.InlineClaim(p, k)
+		want(t, "the largest proof, without uses", list(impl.SameProof(p, q), code), list(true, impl.OK))
 	}
 }
 
