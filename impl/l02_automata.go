@@ -480,11 +480,14 @@ func ValidAutomaton(a Automaton) bool {
 	return true
 }
 
+// sameRows reports whether two tables are equal.
+func sameRows[T comparable](a, b [][]T) bool {
+	return slices.EqualFunc(a, b, slices.Equal[[]T])
+}
+
 // SameAutomaton reports whether two automata are deeply equal.
 func SameAutomaton(a, b Automaton) bool {
-	sameRows := func(x, y [][]int64) bool { return slices.EqualFunc(x, y, slices.Equal[[]int64]) }
-	return a.Sig == b.Sig && slices.EqualFunc(a.Accept, b.Accept, slices.Equal[[]bool]) &&
-		slices.EqualFunc(a.Next, b.Next, sameRows)
+	return a.Sig == b.Sig && sameRows(a.Accept, b.Accept) && slices.EqualFunc(a.Next, b.Next, sameRows[int64])
 }
 
 // writeSig writes how a text begins that names its signature.

@@ -288,6 +288,48 @@ func proofCalls(p, q impl.Proof, k int64, e impl.Expr, s impl.ProofStep) []call 
 	}
 }
 
+// modelCalls are calls of all functions with models.
+func modelCalls(m, other impl.Model, e, f impl.Expr, w impl.Word, set []int64, x int64) []call {
+	q := impl.Equation{Left: e, Right: f}
+	return []call{
+		{"ValidModel", impl.ValidModel, []any{m}},
+		{"SameModel", impl.SameModel, []any{m, other}},
+		{"ModelText", impl.ModelText, []any{m}},
+		{"AtomOf", impl.AtomOf, []any{m, x}},
+		{"RelationOf", impl.RelationOf, []any{m, e}},
+		{"RunsOf", impl.RunsOf, []any{m, w}},
+		{"HoldsIn", impl.HoldsIn, []any{m, q}},
+		{"FirstPair", impl.FirstPair, []any{m, q}},
+		{"WitnessWord", impl.WitnessWord, []any{m, e, x, m.Points - 1}},
+		{"ImageOf", impl.ImageOf, []any{m, e, set}},
+		{"SafeBefore", impl.SafeBefore, []any{m, e, set}},
+		{"JoinModels", impl.JoinModels, []any{m, other}},
+		{"JoinModels, the other way", impl.JoinModels, []any{other, m}},
+		{"RenumberModel", impl.RenumberModel, []any{m, set}},
+		{"RestrictModel", impl.RestrictModel, []any{m, set}},
+	}
+}
+
+// againstCalls are calls of all functions that make models of a signature.
+func againstCalls(g impl.Sig, e, f impl.Expr, w impl.Word, points int64) []call {
+	q := impl.Equation{Left: e, Right: f}
+	return []call{
+		{"WordModel", impl.WordModel, []any{g, w}},
+		{"CounterModel", impl.CounterModel, []any{g, q}},
+		{"FirstModelAgainst", impl.FirstModelAgainst, []any{g, q, points}},
+	}
+}
+
+// costCalls are calls of all functions with costs.
+func costCalls(c impl.Costs, e, f impl.Expr) []call {
+	return []call{
+		{"ValidCosts", impl.ValidCosts, []any{c}},
+		{"CostsOf", impl.CostsOf, []any{c, e}},
+		{"HoldsInCosts", impl.HoldsInCosts, []any{c, impl.Equation{Left: e, Right: f}}},
+		{"SupportOf", impl.SupportOf, []any{c}},
+	}
+}
+
 // invalidCalls are calls with an expression of chapter 4 that is no expression.
 func invalidCalls(g impl.Sig, e impl.Expr) []call {
 	list := []call{
@@ -309,6 +351,22 @@ func invalidCalls(g impl.Sig, e impl.Expr) []call {
 		call{"ApplyStep", impl.ApplyStep, []any{impl.Proof{Sig: g}, int64(0), one, step}},
 		call{"AddInstance", impl.AddInstance, []any{impl.Proof{Sig: g}, int64(0), []impl.Expr{}, []impl.Expr{e}}},
 		call{"StepsFrom", impl.StepsFrom, []any{g, e}}, call{"SubtermAt", impl.SubtermAt, []any{g, e, []int64{}}})
+}
+
+// invalidModelCalls are calls of chapter 5 with an expression that is none, on
+// either side of an equation.
+func invalidModelCalls(g impl.Sig, e impl.Expr) []call {
+	list, w := []call{}, impl.Word{Atoms: []int64{0}}
+	m, c := randomModel(rand.New(rand.NewSource(121)), g, 3), randomCosts(rand.New(rand.NewSource(122)), g, 3)
+	calls := append(append(modelCalls(m, m, e, one, w, []int64{5}, 9), againstCalls(g, e, one, w, 9)...), costCalls(c, e, one)...)
+	calls = append(append(append(calls, modelCalls(m, m, one, e, w, nil, 0)...), againstCalls(g, one, e, w, 0)...), costCalls(c, one, e)...)
+	for i, c := range calls {
+		if slices.Contains([]string{"HoldsIn", "FirstPair", "CounterModel", "FirstModelAgainst", "HoldsInCosts"}, c.name) ||
+			i < len(calls)/2 && slices.Contains([]string{"RelationOf", "WitnessWord", "ImageOf", "SafeBefore", "CostsOf"}, c.name) {
+			list = append(list, c)
+		}
+	}
+	return list
 }
 
 func TestPurity(t *testing.T) {
@@ -434,6 +492,41 @@ func TestPurityOfProofs(t *testing.T) {
 	}
 }
 
+// TestPurityOfModels: no table, set or model that is told shares memory.
+func TestPurityOfModels(t *testing.T) {
+	r := rand.New(rand.NewSource(120))
+	for i := range 150 {
+		g := []impl.Sig{sig12, sig11, {Tests: 2}, sig00, sig22}[i%5]
+		m, other, c := randomModel(r, g, int64(1+i%8)), randomModel(r, g, int64(1+i%3)), randomCosts(r, g, int64(1+i%4))
+		e, f, w := randomExpr(r, g, 1+i%4), randomExpr(r, g, 1+i%3), impl.Word{Atoms: []int64{0}}
+		if g.Actions > 0 {
+			w = randomWord(r, g, i%9)
+		}
+		order := []int64{}
+		for _, x := range r.Perm(int(m.Points)) {
+			order = append(order, int64(x))
+		}
+		calls := append(modelCalls(m, other, e, f, w, randomSet(r, m.Points), int64(i%2)), againstCalls(g, e, f, w, int64(1+i%2))...)
+		calls = append(append(calls, costCalls(c, e, f)...), call{"RenumberModel", impl.RenumberModel, []any{m, order}})
+		for _, c := range append(calls, call{"ReadModel", impl.ReadModel, []any{impl.ModelText(m)}}, call{"ReadModel", impl.ReadModel, []any{impl.ModelText(m) + "?"}}) {
+			checkPure(t, c)
+		}
+	}
+	for _, bad := range badModels() {
+		for _, c := range modelCalls(bad, randomModel(r, sig22, 2), one, zero, impl.Word{Atoms: []int64{0}}, []int64{0}, 0) {
+			checkPure(t, c)
+		}
+	}
+	for _, bad := range badCosts() {
+		for _, c := range costCalls(bad, one, zero) {
+			checkPure(t, c)
+		}
+	}
+	for _, c := range append(againstCalls(sig01, mustExpr(t, sig01, "((1 + a0) (1 + a0))"), mustExpr(t, sig01, "(1 + a0)"), impl.Word{Atoms: make([]int64, 8), Acts: make([]int64, 7)}, 3), againstCalls(sig11, mustExpr(t, sig11, beyondStates["61 states"]), zero, impl.Word{}, 4)...) {
+		checkPure(t, c)
+	}
+}
+
 // TestPurityOfInvalid: what is not valid is not modified either.
 func TestPurityOfInvalid(t *testing.T) {
 	g, w := impl.Sig{Tests: 2, Actions: 2}, impl.Word{Atoms: []int64{0}}
@@ -442,7 +535,7 @@ func TestPurityOfInvalid(t *testing.T) {
 			checkPure(t, c)
 		}
 		checkPure(t, call{"ReplaceActions", impl.ReplaceActions, []any{g, one, []impl.Expr{act(0), e}}})
-		for _, c := range invalidCalls(g, e) {
+		for _, c := range append(invalidCalls(g, e), invalidModelCalls(g, e)...) {
 			checkPure(t, c)
 		}
 		for _, c := range append(decisionCalls(g, e, one, nil), decisionCalls(g, one, e, nil)...) {
@@ -490,7 +583,17 @@ func TestZeroWithErrors(t *testing.T) {
 		}
 	}
 	for name, e := range badExprs() {
-		for _, c := range invalidCalls(g, e) {
+		for _, c := range append(invalidCalls(g, e), invalidModelCalls(g, e)...) {
+			checkInvalid(t, name, c)
+		}
+	}
+	for name, m := range badModels() {
+		for _, c := range modelCalls(m, m, one, zero, w, []int64{0}, 0) {
+			checkInvalid(t, name, c)
+		}
+	}
+	for name, c := range badCosts() {
+		for _, c := range costCalls(c, one, zero) {
 			checkInvalid(t, name, c)
 		}
 	}
@@ -562,7 +665,7 @@ func TestLargeArguments(t *testing.T) {
 		}
 		checkInvalid(t, name, call{"CheckBisim", impl.CheckBisim, []any{sig12, one, one, []impl.Pair{{Left: one, Right: e}}}})
 		checkInvalid(t, name, call{"BisimText", impl.BisimText, []any{sig12, []impl.Pair{{Left: e, Right: one}}}})
-		for _, c := range invalidCalls(sig12, e) {
+		for _, c := range append(invalidCalls(sig12, e), invalidModelCalls(sig12, e)...) {
 			checkInvalid(t, name, c)
 		}
 		checkInvalid(t, name, call{"FitExpr", impl.FitExpr, []any{sig12, e, one}})
@@ -571,6 +674,7 @@ func TestLargeArguments(t *testing.T) {
 	largeAutomata(t)
 	largeLists(t)
 	largeProofs(t)
+	largeModels(t)
 	numbers := make([]int64, 240_000)
 	long := impl.Word{Atoms: numbers, Acts: numbers[1:]}
 	_, first := impl.ReverseWord(sig12, long)
@@ -589,7 +693,8 @@ func TestLargeArguments(t *testing.T) {
 		_, first := impl.ReadExpr(sig12, strings.Repeat(part, 999_999/len(part)))
 		_, second := impl.ReadWord(sig12, "0"+strings.Repeat(part, 999_999/len(part)))
 		_, third := impl.ReadAutomaton("automaton 0 0\n" + strings.Repeat(part, 999_980/len(part)))
-		want(t, "long texts", list(first, second, third), list(impl.ErrRange, impl.ErrSyntax, impl.ErrSyntax))
+		_, fourth := impl.ReadModel("model 0 1 8\nact " + strings.Repeat(part, 999_980/len(part)))
+		want(t, "long texts", list(first, second, third, fourth), list(impl.ErrRange, impl.ErrSyntax, impl.ErrSyntax, impl.ErrSyntax))
 	}
 	ends := []int64{math.MinInt64, -1, math.MaxInt64}
 	for _, x := range ends {
@@ -612,6 +717,12 @@ func TestLargeArguments(t *testing.T) {
 				calls = append(calls, proofCalls(p, impl.Proof{Sig: sig12}, y, leaf(x, y), step)...)
 			}
 			calls = append(calls, automatonCalls(chain(1, 0), chain(2, 0), w, x)...)
+			for _, m := range []impl.Model{{Sig: g, Points: x}, {Sig: sig01, Points: y, Acts: [][][]bool{{{true}}}}, {Sig: sig01, Points: 1, Acts: [][][]bool{{{true}}}}} {
+				c := impl.Costs{Sig: m.Sig, Points: m.Points, Acts: [][][]int64{{{x}}}}
+				calls = append(append(calls, modelCalls(m, m, leaf(x, y), one, w, []int64{x, y}, x)...), costCalls(c, leaf(x, y), one)...)
+				calls = append(append(calls, modelCalls(m, m, one, act(0), w, []int64{x, y}, x)...), costCalls(c, one, act(0))...)
+			}
+			calls = append(append(calls, againstCalls(g, one, zero, w, x)...), againstCalls(sig01, one, zero, w, y)...)
 			for _, c := range calls {
 				reflect.ValueOf(c.fn).Call(values(c.args, 0))
 			}
@@ -705,6 +816,49 @@ func largeProofs(t *testing.T) {
 	for k := range int64(40) {
 		q, code := impl.InlineClaim(p, k)
 		want(t, "the largest proof, without uses", list(impl.SameProof(p, q), code), list(true, impl.OK))
+	}
+}
+
+// largeModels: models and costs that have nearly a million elements, and sets
+// and words that have.
+func largeModels(t *testing.T) {
+	t.Helper()
+	w, numbers := impl.Word{Atoms: []int64{0}}, make([]int64, 450_000)
+	for name, m := range map[string]impl.Model{
+		"many tests":   {Sig: impl.Sig{Tests: 450_000}, Points: 1, Tests: slices.Repeat([][]bool{{true}}, 450_000)},
+		"a long test":  {Sig: impl.Sig{Tests: 1}, Points: 900_000, Tests: [][]bool{make([]bool, 900_000)}},
+		"too long":     {Sig: impl.Sig{Tests: 1}, Points: 1, Tests: [][]bool{make([]bool, 900_000)}},
+		"many actions": {Sig: impl.Sig{Actions: 300_000}, Points: 1, Acts: slices.Repeat([][][]bool{{{true}}}, 300_000)},
+		"many points":  {Sig: sig01, Points: 900, Acts: [][][]bool{slices.Repeat([][]bool{make([]bool, 900)}, 900)}},
+		"a long row":   {Sig: sig01, Points: 1, Acts: [][][]bool{{make([]bool, 900_000)}}},
+		"many rows":    {Sig: sig01, Points: 1, Acts: [][][]bool{slices.Repeat([][]bool{{true}}, 400_000)}},
+	} {
+		c := impl.Costs{Sig: m.Sig, Points: m.Points, Tests: m.Tests}
+		for _, rows := range m.Acts {
+			table := [][]int64{}
+			for _, row := range rows {
+				table = append(table, numbers[:min(len(row), len(numbers))])
+			}
+			c.Acts = append(c.Acts, table)
+		}
+		want(t, name, list(impl.SameModel(m, m), impl.SameModel(m, impl.Model{Points: 1})), list(true, false))
+		for _, c := range append(modelCalls(m, impl.Model{Points: 1}, one, zero, w, []int64{0}, 0), costCalls(c, one, zero)...) {
+			checkInvalid(t, name, c)
+		}
+	}
+	m := randomModel(rand.New(rand.NewSource(123)), sig12, 8)
+	increasing := make([]int64, 900_000)
+	for i := range increasing {
+		increasing[i] = int64(i)
+	}
+	for _, set := range [][]int64{numbers, increasing} {
+		for _, c := range modelCalls(m, m, one, zero, impl.Word{Atoms: numbers, Acts: numbers[1:]}, set, 0) {
+			results := reflect.ValueOf(c.fn).Call(values(c.args, 0))
+			code := results[len(results)-1]
+			if wanted := map[string]int64{"RunsOf": impl.ErrInvalid, "ImageOf": impl.ErrRange, "SafeBefore": impl.ErrRange, "RenumberModel": impl.ErrRange, "RestrictModel": impl.ErrRange}[c.name]; wanted != 0 {
+				want(t, "long lists for "+c.name, code.Int(), wanted)
+			}
+		}
 	}
 }
 
