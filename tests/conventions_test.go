@@ -201,6 +201,7 @@ func exprCalls(g impl.Sig, e impl.Expr, w impl.Word, by []impl.Expr) []call {
 		{"DeriveWord", impl.DeriveWord, []any{g, e, w}},
 		{"StatesOf", impl.StatesOf, []any{g, e}},
 		{"AutomatonOf", impl.AutomatonOf, []any{g, e}},
+		{"IsDeterministic", impl.IsDeterministic, []any{g, e}},
 	}
 }
 
@@ -330,6 +331,38 @@ func costCalls(c impl.Costs, e, f impl.Expr) []call {
 	}
 }
 
+// progCalls are calls of all functions with programs alone.
+func progCalls(g impl.Sig, p, q impl.Prog, path []int64, rule int64) []call {
+	return []call{
+		{"ValidProg", impl.ValidProg, []any{g, p}},
+		{"SameProg", impl.SameProg, []any{p, q}},
+		{"ProgText", impl.ProgText, []any{g, p}},
+		{"ProgExpr", impl.ProgExpr, []any{g, p}},
+		{"FlowOf", impl.FlowOf, []any{g, p}},
+		{"Transform", impl.Transform, []any{g, p, path, rule}},
+		{"SitesOf", impl.SitesOf, []any{g, p, rule}},
+	}
+}
+
+// flowCalls are calls of all functions with flowcharts alone.
+func flowCalls(g impl.Sig, f impl.Flow) []call {
+	return []call{
+		{"ValidFlow", impl.ValidFlow, []any{g, f}},
+		{"FlowText", impl.FlowText, []any{g, f}},
+		{"FlowAutomaton", impl.FlowAutomaton, []any{g, f}},
+	}
+}
+
+// worldCalls are calls of all functions with worlds.
+func worldCalls(g impl.Sig, w impl.World, p impl.Prog, f impl.Flow, v impl.Word, state, fuel int64) []call {
+	return []call{
+		{"ValidWorld", impl.ValidWorld, []any{g, w}},
+		{"RunProg", impl.RunProg, []any{g, w, p, state, fuel}},
+		{"RunFlow", impl.RunFlow, []any{g, w, f, state, fuel}},
+		{"FollowWord", impl.FollowWord, []any{g, w, state, v}},
+	}
+}
+
 // invalidCalls are calls with an expression of chapter 4 that is no expression.
 func invalidCalls(g impl.Sig, e impl.Expr) []call {
 	list := []call{
@@ -367,6 +400,27 @@ func invalidModelCalls(g impl.Sig, e impl.Expr) []call {
 		}
 	}
 	return list
+}
+
+// invalidProgCalls are calls of chapter 6 with a program, a flowchart or a world
+// that is none, and with other arguments out of their ranges.
+func invalidProgCalls(g impl.Sig, progs map[string]impl.Prog, flows map[string]impl.Flow, worlds map[string]impl.World) map[string]call {
+	calls, w, v := map[string]call{}, randomWorld(rand.New(rand.NewSource(166)), g, 3), impl.Word{Atoms: []int64{0}}
+	add := func(name string, list ...call) {
+		for _, c := range list {
+			calls[c.name+" of "+name] = c
+		}
+	}
+	for name, p := range progs {
+		add("the program "+name, append(progCalls(g, p, p, []int64{9}, 99), worldCalls(g, w, p, impl.Flow{}, v, 99, 999)[1])...)
+	}
+	for name, f := range flows {
+		add("the flowchart "+name, append(flowCalls(g, f), worldCalls(g, w, skip, f, v, 99, 999)[2])...)
+	}
+	for name, w := range worlds {
+		add("the world "+name, worldCalls(g, w, skip, impl.Flow{Spots: []impl.Spot{{Kind: impl.FHalt}}}, v, 99, 999)...)
+	}
+	return calls
 }
 
 func TestPurity(t *testing.T) {
@@ -527,6 +581,50 @@ func TestPurityOfModels(t *testing.T) {
 	}
 }
 
+// TestPurityOfPrograms: no program, trace, flowchart or path that is told
+// shares memory.
+func TestPurityOfPrograms(t *testing.T) {
+	r := rand.New(rand.NewSource(165))
+	for i := range 150 {
+		g := []impl.Sig{sig12, sig22, sig34}[i%3]
+		p, path := randomSite(t, r, g, 1+i%(len(ruleTexts)-1))
+		q, w, f := randomProg(r, g, 1+i%4), randomWorld(r, g, int64(1+i%12)), randomFlow(r, g, int64(1+i%9))
+		v, text := randomWord(r, g, i%5), progByTable(p)
+		if _, trace, _, code := impl.RunProg(g, w, q, 0, 20); code == impl.OK {
+			v = trace
+		}
+		calls := append(progCalls(g, p, q, path, ruleOf(1+i%(len(ruleTexts)-1))), progCalls(g, p, p, nil, impl.TrSwap)...)
+		calls = append(append(calls, flowCalls(g, f)...), worldCalls(g, w, q, f, v, 0, int64(i%25))...)
+		if made, code := impl.FlowOf(g, p); code == impl.OK {
+			calls = append(append(calls, flowCalls(g, made)...), worldCalls(g, w, p, made, v, int64(len(w.Atoms))-1, 500)...)
+		}
+		for _, c := range append(calls, call{"ReadProg", impl.ReadProg, []any{g, text}}, call{"ReadProg", impl.ReadProg, []any{g, text + " "}}) {
+			checkPure(t, c)
+		}
+	}
+	for _, p := range goodProgs(t) {
+		for rule := range int64(16) {
+			for _, c := range progCalls(sig22, p, p, []int64{0}, rule)[5:] {
+				checkPure(t, c)
+			}
+		}
+	}
+	w, v, halt := randomWorld(r, sig22, 3), impl.Word{Atoms: []int64{0}}, impl.Flow{Spots: []impl.Spot{{Kind: impl.FHalt}}}
+	calls := []call{}
+	for _, bad := range badProgs() {
+		calls = append(append(calls, progCalls(sig22, bad, skip, []int64{0}, 1)...), worldCalls(sig22, w, bad, halt, v, 0, 9)...)
+	}
+	for _, bad := range badFlows() {
+		calls = append(append(calls, flowCalls(sig22, bad)...), worldCalls(sig22, w, skip, bad, v, 0, 9)...)
+	}
+	for _, bad := range badWorlds() {
+		calls = append(calls, worldCalls(sig22, bad, skip, halt, v, 0, 9)...)
+	}
+	for _, c := range calls {
+		checkPure(t, c)
+	}
+}
+
 // TestPurityOfInvalid: what is not valid is not modified either.
 func TestPurityOfInvalid(t *testing.T) {
 	g, w := impl.Sig{Tests: 2, Actions: 2}, impl.Word{Atoms: []int64{0}}
@@ -602,6 +700,9 @@ func TestZeroWithErrors(t *testing.T) {
 			checkInvalid(t, name, c)
 		}
 	}
+	for name, c := range invalidProgCalls(sig22, badProgs(), badFlows(), badWorlds()) {
+		checkInvalid(t, name, c)
+	}
 	for name, a := range badAutomata() {
 		for _, number := range []int64{1, 99} {
 			for _, c := range automatonCalls(a, a, w, number) {
@@ -675,6 +776,7 @@ func TestLargeArguments(t *testing.T) {
 	largeLists(t)
 	largeProofs(t)
 	largeModels(t)
+	largePrograms(t, large)
 	numbers := make([]int64, 240_000)
 	long := impl.Word{Atoms: numbers, Acts: numbers[1:]}
 	_, first := impl.ReverseWord(sig12, long)
@@ -694,7 +796,8 @@ func TestLargeArguments(t *testing.T) {
 		_, second := impl.ReadWord(sig12, "0"+strings.Repeat(part, 999_999/len(part)))
 		_, third := impl.ReadAutomaton("automaton 0 0\n" + strings.Repeat(part, 999_980/len(part)))
 		_, fourth := impl.ReadModel("model 0 1 8\nact " + strings.Repeat(part, 999_980/len(part)))
-		want(t, "long texts", list(first, second, third, fourth), list(impl.ErrRange, impl.ErrSyntax, impl.ErrSyntax, impl.ErrSyntax))
+		_, fifth := impl.ReadProg(sig12, "assert "+strings.Repeat(part, 999_980/len(part)))
+		want(t, "long texts", list(first, second, third, fourth, fifth), list(impl.ErrRange, impl.ErrSyntax, impl.ErrSyntax, impl.ErrSyntax, impl.ErrRange))
 	}
 	ends := []int64{math.MinInt64, -1, math.MaxInt64}
 	for _, x := range ends {
@@ -723,6 +826,14 @@ func TestLargeArguments(t *testing.T) {
 				calls = append(append(calls, modelCalls(m, m, one, act(0), w, []int64{x, y}, x)...), costCalls(c, one, act(0))...)
 			}
 			calls = append(append(calls, againstCalls(g, one, zero, w, x)...), againstCalls(sig01, one, zero, w, y)...)
+			f := impl.Flow{Start: x, Spots: []impl.Spot{{Kind: impl.FAct, Num: y, To: x, Else: y}}}
+			for _, world := range []impl.World{{Atoms: []int64{x}, Acts: [][]int64{{y}}}, {Atoms: []int64{0}, Acts: [][]int64{{-1}}}} {
+				calls = append(append(calls, worldCalls(sig01, world, do(0), f, w, x, y)...), worldCalls(g, world, skip, impl.Flow{Spots: []impl.Spot{{Kind: impl.FTest, Cond: one}}}, w, x, y)...)
+			}
+			for _, p := range []impl.Prog{{Kind: x, Num: y}, {Kind: impl.PAct, Num: x}, {Kind: impl.PAssert, Cond: leaf(x, y)}, while(one, do(0))} {
+				calls = append(append(calls, progCalls(sig01, p, p, []int64{x, y}, x)...), progCalls(g, p, p, nil, y)...)
+			}
+			calls = append(append(calls, flowCalls(sig01, f)...), flowCalls(g, f)...)
 			for _, c := range calls {
 				reflect.ValueOf(c.fn).Call(values(c.args, 0))
 			}
@@ -860,6 +971,40 @@ func largeModels(t *testing.T) {
 			}
 		}
 	}
+}
+
+// largePrograms: programs that are nested 10,000 levels deep or that have nearly
+// a million elements, and worlds and flowcharts that have.
+func largePrograms(t *testing.T, exprs map[string]impl.Expr) {
+	t.Helper()
+	progs, flows := map[string]impl.Prog{}, map[string]impl.Flow{}
+	split := skip
+	for range 17 {
+		split = seq(split, split)
+	}
+	progs["loops"], progs["shared"], progs["wide"] = loops(9_999, skip), split, impl.Prog{Kind: impl.PSeq, Kids: make([]impl.Prog, 200_000)}
+	progs["wide in a loop"] = while(one, progs["wide"])
+	for name, e := range exprs {
+		progs["a condition, "+name], progs["a condition that does not belong, "+name] = while(e, skip), impl.Prog{Kind: impl.PSkip, Cond: e}
+		flows["a condition, "+name] = impl.Flow{Spots: []impl.Spot{{Kind: impl.FTest, Cond: e}}}
+		flows["a condition that does not belong, "+name] = impl.Flow{Spots: []impl.Spot{{Kind: impl.FHalt, Cond: e}}}
+	}
+	for name, p := range progs {
+		want(t, name, list(impl.SameProg(p, p), impl.SameProg(p, skip), impl.SameProg(loops(9_999, failing), p)), list(true, false, false))
+	}
+	flows["many spots"] = impl.Flow{Spots: slices.Repeat([]impl.Spot{{Kind: impl.FHalt}}, 150_000)}
+	numbers := make([]int64, 900_000)
+	worlds := map[string]impl.World{
+		"many states": {Atoms: numbers[:300_000], Acts: [][]int64{numbers[:300_000], numbers[:300_000]}}, "many actions": {Atoms: []int64{0}, Acts: slices.Repeat([][]int64{{0}}, 400_000)},
+		"a long list": {Atoms: []int64{0}, Acts: [][]int64{{0}, numbers}},
+	}
+	for name, c := range invalidProgCalls(sig12, progs, flows, worlds) {
+		checkInvalid(t, name, c)
+	}
+	w := randomWorld(rand.New(rand.NewSource(167)), sig12, 12)
+	_, first := impl.FollowWord(sig12, w, 0, impl.Word{Atoms: numbers, Acts: numbers[1:]})
+	_, second := impl.Transform(sig12, loops(19, skip), numbers, impl.TrUnroll)
+	want(t, "long words and paths", list(first, second), list(impl.ErrInvalid, impl.ErrRange))
 }
 
 // TestRandomBytes: texts of all kinds are read, or refused by ErrSyntax; what

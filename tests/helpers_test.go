@@ -234,3 +234,19 @@ func randomWord(r *rand.Rand, g impl.Sig, length int) impl.Word {
 	}
 	return w
 }
+
+// altered returns a text into which a letter is put, or without one, or with
+// another one.
+func altered(r *rand.Rand, text, letters string) string {
+	at, letter := r.Intn(len(text)+1), letters[r.Intn(len(letters))]
+	way := r.Intn(3)
+	switch {
+	case way == 0:
+		return text[:at] + string(letter) + text[at:]
+	case at == len(text):
+		return text
+	case way == 1:
+		return text[:at] + text[at+1:]
+	}
+	return text[:at] + string(letter) + text[at+1:]
+}

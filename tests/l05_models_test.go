@@ -106,22 +106,13 @@ func TestReadModelErrors(t *testing.T) {
 	r := rand.New(rand.NewSource(82))
 	letters, read := "01 \nmodeltscax-289", 0
 	for i := range 20_000 {
-		text := []byte(modelByTable(randomModel(r, impl.Sig{Tests: int64(i % 3), Actions: int64(i % 2)}, int64(1+i%3))))
-		at, letter := r.Intn(len(text)+1), letters[r.Intn(len(letters))]
-		switch {
-		case i%3 == 0:
-			text = slices.Insert(text, at, letter)
-		case i%3 == 1 && at < len(text):
-			text = slices.Delete(text, at, at+1)
-		case at < len(text):
-			text[at] = letter
-		}
-		m, code := impl.ReadModel(string(text))
+		text := altered(r, modelByTable(randomModel(r, impl.Sig{Tests: int64(i % 3), Actions: int64(i % 2)}, int64(1+i%3))), letters)
+		m, code := impl.ReadModel(text)
 		if code == impl.OK {
 			read++
-			want(t, "text", list(impl.ModelText(m), modelByTable(m)), list(string(text), string(text)))
+			want(t, "text", list(impl.ModelText(m), modelByTable(m)), list(text, text))
 		} else {
-			want(t, "read "+string(text), list(m, code), list(impl.Model{}, impl.ErrSyntax))
+			want(t, "read "+text, list(m, code), list(impl.Model{}, impl.ErrSyntax))
 		}
 	}
 	if read < 500 {
