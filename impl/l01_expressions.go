@@ -463,13 +463,18 @@ func ReadExpr(g Sig, text string) (Expr, int64) {
 	return e, OK
 }
 
+// holdsAt reports whether a test holds at an atom.
+func holdsAt(test, atom int64) bool {
+	return atom>>test&1 == 1
+}
+
 // emptyAt reports whether a node has the word of length 0 with an atom.
 func emptyAt(n node, atom int64) bool {
 	switch x := n.(type) {
 	case oneNode, starNode:
 		return true
 	case testNode:
-		return atom>>x.num&1 == 1
+		return holdsAt(x.num, atom)
 	case notNode:
 		return !emptyAt(x.kid, atom)
 	case sumNode:

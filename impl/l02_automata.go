@@ -786,7 +786,7 @@ func atomCondition(g Sig, atom int64) node {
 	var product node = oneNode{}
 	for i := range g.Tests {
 		var factor node = testNode{i}
-		if atom>>i&1 == 0 {
+		if !holdsAt(i, atom) {
 			factor = newNot(factor)
 		}
 		if i == 0 {

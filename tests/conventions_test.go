@@ -363,6 +363,78 @@ func worldCalls(g impl.Sig, w impl.World, p impl.Prog, f impl.Flow, v impl.Word,
 	}
 }
 
+// conditionCalls are calls of all functions with conditions and hypotheses alone.
+func conditionCalls(g impl.Sig, hypotheses []impl.Expr, b, c impl.Expr, atoms []int64) []call {
+	return []call{
+		{"ConditionOf", impl.ConditionOf, []any{g, atoms}},
+		{"AtomsOf", impl.AtomsOf, []any{g, b}},
+		{"Implies", impl.Implies, []any{g, b, c}},
+		{"EqualUnder", impl.EqualUnder, []any{g, hypotheses, b, c}},
+	}
+}
+
+// tripleCalls are calls of all functions with triples or programs.
+func tripleCalls(g impl.Sig, premises []impl.Premise, x impl.Triple, invariants []impl.Expr) []call {
+	return []call{
+		{"ValidTriple", impl.ValidTriple, []any{g, x}},
+		{"TripleText", impl.TripleText, []any{g, x}},
+		{"HoldsTriple", impl.HoldsTriple, []any{g, x}},
+		{"TripleUnder", impl.TripleUnder, []any{g, premises, x}},
+		{"BreakingWord", impl.BreakingWord, []any{g, premises, x}},
+		{"FindDerivation", impl.FindDerivation, []any{g, premises, x}},
+		{"ObligationsOf", impl.ObligationsOf, []any{g, premises, x, invariants}},
+		{"WeakestUnder", impl.WeakestUnder, []any{g, premises, x.Prog, x.Post}},
+		{"StrongestUnder", impl.StrongestUnder, []any{g, premises, x.Pre, x.Prog}},
+	}
+}
+
+// premiseCalls are calls of all functions with premises but those with triples.
+func premiseCalls(g impl.Sig, premises []impl.Premise, d impl.Derivation, w impl.World, a, atom int64) []call {
+	calls := []call{
+		{"ValidPremises", impl.ValidPremises, []any{g, premises}},
+		{"AllowedNext", impl.AllowedNext, []any{g, premises, a, atom}},
+		{"CheckDerivation", impl.CheckDerivation, []any{g, premises, d}},
+		{"ModelsPremises", impl.ModelsPremises, []any{g, w, premises}},
+	}
+	for _, x := range premises[:min(len(premises), 3)] {
+		calls = append(calls, call{"PremiseExpr", impl.PremiseExpr, []any{g, x}})
+	}
+	return calls
+}
+
+// invalidConditionCalls are calls of chapter 7 with something that is not valid,
+// and with other arguments out of their ranges.
+func invalidConditionCalls(g impl.Sig, exprs map[string]impl.Expr, triples map[string]impl.Triple, premises map[string][]impl.Premise, worlds map[string]impl.World) map[string]call {
+	calls, x := map[string]call{}, triple(one, while(test(0), do(0)), zero)
+	add := func(name string, list ...call) {
+		for _, c := range list {
+			calls[c.name+" of "+name] = c
+		}
+	}
+	many := node(impl.HrTogether, zero, skip, one, make([]impl.Derivation, 401)...)
+	for name, e := range exprs {
+		add("the first condition "+name, conditionCalls(g, make([]impl.Expr, 5), e, act(0), nil)[1:]...)
+		add("the second condition "+name, conditionCalls(g, nil, act(0), e, nil)[2:]...)
+		add("the last hypothesis "+name, conditionCalls(g, []impl.Expr{one, one, one, one, e}, one, one, nil)[3])
+		add("the invariant "+name, tripleCalls(g, nil, x, []impl.Expr{one, one, e})[6])
+	}
+	for name, y := range triples {
+		add("the triple "+name, tripleCalls(g, nil, y, nil)[:7]...)
+	}
+	w := impl.World{Atoms: []int64{0}, Acts: slices.Repeat([][]int64{{0}}, int(g.Actions))}
+	for name, list := range premises {
+		add("the premises "+name, tripleCalls(g, list, x, nil)[3:]...)
+		add("the premises "+name, premiseCalls(g, list, many, w, 99, 99)[:4]...)
+		if len(list) == 1 {
+			add("the premise "+name, premiseCalls(g, list, many, w, 99, 99)[4])
+		}
+	}
+	for name, w := range worlds {
+		add("the world "+name, premiseCalls(g, nil, many, w, 99, 99)[3])
+	}
+	return calls
+}
+
 // invalidCalls are calls with an expression of chapter 4 that is no expression.
 func invalidCalls(g impl.Sig, e impl.Expr) []call {
 	list := []call{
@@ -625,6 +697,37 @@ func TestPurityOfPrograms(t *testing.T) {
 	}
 }
 
+// TestPurityOfConditions: no condition, list of atoms, derivation or pair that
+// is told shares memory.
+func TestPurityOfConditions(t *testing.T) {
+	r := rand.New(rand.NewSource(230))
+	for i := range 200 {
+		g := []impl.Sig{sig12, sig22, sig34}[i%3]
+		premises, x := randomPremises(r, g, 5), randomTriple(r, g, 1+i%4)
+		if i%2 == 0 {
+			x = randomHolding(r, g, premises, 1+i%4)
+		}
+		d, _ := impl.FindDerivation(g, premises, x)
+		if i%5 == 0 {
+			d = changedDerivation(r, g, d)
+		}
+		hypotheses, w := []impl.Expr{randomExpr(r, g, 2), x.Pre}[:i%3], worldUnder(r, g, premises, int64(1+i%12))
+		calls := append(tripleCalls(g, premises, x, weakestInvariants(g, premises, x.Prog, x.Post)), premiseCalls(g, premises, d, w, int64(i%5)-1, int64(i%4))...)
+		calls = append(append(calls, conditionCalls(g, hypotheses, x.Pre, x.Post, atomsBy(g, x.Post))...), call{"DerivationSize", impl.DerivationSize, []any{d}})
+		for _, c := range append(calls, conditionCalls(g, hypotheses, randomExpr(r, g, 3), x.Pre, []int64{1, 0})...) {
+			checkPure(t, c)
+		}
+	}
+	for _, p := range goodProgs(t) {
+		for _, c := range tripleCalls(sig22, mustPremises(t, sig22, "[t0] a0 [t1]", "[t0] a0 [t1]"), triple(one, p, one), slices.Repeat([]impl.Expr{test(0)}, len(loopPaths(p)))) {
+			checkPure(t, c)
+		}
+	}
+	for _, c := range invalidConditionCalls(sig22, badConditions(), badTriples(), badPremises(), badWorlds()) {
+		checkPure(t, c)
+	}
+}
+
 // TestPurityOfInvalid: what is not valid is not modified either.
 func TestPurityOfInvalid(t *testing.T) {
 	g, w := impl.Sig{Tests: 2, Actions: 2}, impl.Word{Atoms: []int64{0}}
@@ -703,6 +806,9 @@ func TestZeroWithErrors(t *testing.T) {
 	for name, c := range invalidProgCalls(sig22, badProgs(), badFlows(), badWorlds()) {
 		checkInvalid(t, name, c)
 	}
+	for name, c := range invalidConditionCalls(sig22, badExprs(), badTriples(), badPremises(), badWorlds()) {
+		checkInvalid(t, name, c)
+	}
 	for name, a := range badAutomata() {
 		for _, number := range []int64{1, 99} {
 			for _, c := range automatonCalls(a, a, w, number) {
@@ -716,7 +822,7 @@ func TestZeroWithErrors(t *testing.T) {
 // checkInvalid makes a call for which there is no other answer than ErrInvalid.
 func checkInvalid(t *testing.T, name string, c call) {
 	t.Helper()
-	if c.name == "IsCondition" || strings.HasPrefix(c.name, "Same") || c.name == "ExprSize" { // these have an answer for all arguments
+	if c.name == "IsCondition" || strings.HasPrefix(c.name, "Same") || c.name == "ExprSize" || c.name == "DerivationSize" { // these have an answer for all arguments
 		return
 	}
 	arguments := []reflect.Value{}
@@ -777,6 +883,7 @@ func TestLargeArguments(t *testing.T) {
 	largeProofs(t)
 	largeModels(t)
 	largePrograms(t, large)
+	largeDerivations(t, large)
 	numbers := make([]int64, 240_000)
 	long := impl.Word{Atoms: numbers, Acts: numbers[1:]}
 	_, first := impl.ReverseWord(sig12, long)
@@ -834,6 +941,7 @@ func TestLargeArguments(t *testing.T) {
 				calls = append(append(calls, progCalls(sig01, p, p, []int64{x, y}, x)...), progCalls(g, p, p, nil, y)...)
 			}
 			calls = append(append(calls, flowCalls(sig01, f)...), flowCalls(g, f)...)
+			calls = append(append(calls, endCalls(sig01, x, y)...), endCalls(g, x, y)...)
 			for _, c := range calls {
 				reflect.ValueOf(c.fn).Call(values(c.args, 0))
 			}
@@ -1005,6 +1113,75 @@ func largePrograms(t *testing.T, exprs map[string]impl.Expr) {
 	_, first := impl.FollowWord(sig12, w, 0, impl.Word{Atoms: numbers, Acts: numbers[1:]})
 	_, second := impl.Transform(sig12, loops(19, skip), numbers, impl.TrUnroll)
 	want(t, "long words and paths", list(first, second), list(impl.ErrInvalid, impl.ErrRange))
+}
+
+// endCalls are calls of chapter 7 with two numbers wherever there is one.
+func endCalls(g impl.Sig, x, y int64) []call {
+	calls, w := []call{}, impl.World{Atoms: []int64{0}, Acts: [][]int64{{0}}}
+	for _, c := range []impl.Expr{one, leaf(x, y)} {
+		calls = append(calls, conditionCalls(g, []impl.Expr{c}, c, one, []int64{x, y})...)
+		for _, p := range []impl.Prog{skip, {Kind: x, Num: y}, do(x)} {
+			calls = append(calls, tripleCalls(g, []impl.Premise{premise(one, 0, c)}, triple(c, p, one), []impl.Expr{c})...)
+			calls = append(calls, premiseCalls(g, []impl.Premise{premise(c, x, one)}, node(x, c, p, one, node(y, one, p, c)), w, x, y)...)
+			calls = append(calls, premiseCalls(g, nil, node(x, one, p, c, node(impl.HrFail, one, failing, c)), impl.World{Atoms: []int64{x}, Acts: [][]int64{{y}}}, y, x)...)
+		}
+	}
+	return calls
+}
+
+// largeDerivations: derivations that are nested 10,000 levels deep or that have
+// nearly a million elements, and what they consist of.
+func largeDerivations(t *testing.T, exprs map[string]impl.Expr) {
+	t.Helper()
+	triples, premises := map[string]impl.Triple{}, map[string][]impl.Premise{}
+	for name, e := range exprs {
+		triples[name+" in Pre"], triples[name+" in Post"], triples[name+" in Prog"] = triple(e, skip, one), triple(one, skip, e), triple(one, assert(e), one)
+		premises[name+" in Pre"], premises[name+" in Post"] = []impl.Premise{premise(e, 0, one)}, []impl.Premise{premise(one, 0, e)}
+	}
+	triples["a deep program"], triples["a wide program"] = triple(one, loops(9_999, skip), one), triple(one, impl.Prog{Kind: impl.PSeq, Kids: make([]impl.Prog, 200_000)}, one)
+	premises["very many premises"] = slices.Repeat([]impl.Premise{premise(one, 0, one)}, 200_000)
+	for name, c := range invalidConditionCalls(sig12, exprs, triples, premises, nil) {
+		checkInvalid(t, name, c)
+	}
+	for name, x := range triples {
+		count, code := impl.CheckDerivation(sig12, nil, impl.Derivation{Rule: impl.HrTogether, Says: x})
+		want(t, name, list(count, code), list(0, impl.ErrProof))
+	}
+	deep, wide := node(impl.HrSkip, one, skip, one), node(impl.HrTogether, zero, skip, one, make([]impl.Derivation, 90_000)...)
+	for range 9_999 {
+		deep = node(impl.HrTogether, one, skip, one, deep)
+	}
+	for name, d := range map[string]impl.Derivation{"deep": deep, "wide": wide} {
+		count, code := impl.CheckDerivation(sig12, nil, d)
+		want(t, name, list(impl.DerivationSize(d), count, code), list(map[string]int{"deep": 10_000, "wide": 90_001}[name], 0, impl.ErrRange))
+	}
+	many, numbers := slices.Repeat([]impl.Expr{one}, 900_000), make([]int64, 900_000)
+	_, first := impl.EqualUnder(sig12, many, one, one)
+	_, second := impl.ObligationsOf(sig12, nil, triple(one, skip, one), many)
+	_, third := impl.ConditionOf(sig12, numbers)
+	want(t, "long lists", list(first, second, third), list(impl.ErrRange, impl.ErrRange, impl.ErrRange))
+	largeTriples(t)
+}
+
+// largeTriples: the work for triples that are as large as they may be, also for
+// derivations that have many nodes with large programs.
+func largeTriples(t *testing.T) {
+	t.Helper()
+	c := nodesOf(t, test(2), 180)
+	inner := while(c, seq(do(0), seq(do(1), ifThen(c, do(2), assert(not(c))))))
+	p := seq(seq(inner, inner), seq(inner, inner))
+	for range 6 {
+		p = while(c, ifThen(c, p, skip))
+	}
+	premises := slices.Repeat([]impl.Premise{premise(c, 0, c), premise(not(c), 1, c), premise(c, 2, not(c))}, 4)
+	x := triple(test(2), p, not(test(2)))
+	want(t, "a large triple", list(impl.ValidTriple(sig34, x), impl.ValidPremises(sig34, premises)), list(true, true))
+	_, first := impl.BreakingWord(sig34, premises, x)
+	d, second := impl.FindDerivation(sig34, premises, triple(zero, p, test(0)))
+	pairs, third := impl.ObligationsOf(sig34, premises, x, slices.Repeat([]impl.Expr{test(2)}, 10))
+	size := impl.DerivationSize(d)
+	count, fourth := impl.CheckDerivation(sig34, premises, d)
+	want(t, "a large triple", list(first, second, third, fourth, len(pairs), size == count && size > 100), list(impl.ErrNotFound, impl.OK, impl.ErrLimit, impl.OK, 0, true))
 }
 
 // TestRandomBytes: texts of all kinds are read, or refused by ErrSyntax; what
