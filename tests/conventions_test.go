@@ -2,6 +2,7 @@ package tests
 
 import (
 	"fmt"
+	"maps"
 	"math"
 	"math/rand"
 	"reflect"
@@ -66,7 +67,7 @@ func fill(v reflect.Value) {
 func seen(out *strings.Builder, v reflect.Value, whole bool) {
 	switch v.Kind() {
 	case reflect.Slice:
-		fmt.Fprintf(out, "%d[", v.Len())
+		out.WriteString(digit(int64(v.Len())) + "[")
 		if whole {
 			v = v.Slice(0, v.Cap())
 		}
@@ -80,6 +81,8 @@ func seen(out *strings.Builder, v reflect.Value, whole bool) {
 			seen(out, v.Field(i), whole)
 		}
 		out.WriteString("}")
+	case reflect.Int64:
+		out.WriteString(digit(v.Int()) + ",")
 	default:
 		fmt.Fprintf(out, "%#v,", v.Interface())
 	}
@@ -398,6 +401,57 @@ func premiseCalls(g impl.Sig, premises []impl.Premise, d impl.Derivation, w impl
 	}
 	for _, x := range premises[:min(len(premises), 3)] {
 		calls = append(calls, call{"PremiseExpr", impl.PremiseExpr, []any{g, x}})
+	}
+	return calls
+}
+
+// archiveCalls are calls of all functions with archives.
+func archiveCalls(a, b impl.Archive, e impl.Event, s, id int64, asked []int64) []call {
+	losing := []impl.Event{event(impl.EvCrash), event(impl.EvStart), event(impl.EvRevoke, 0, 98), event(impl.EvSave), event(impl.EvSend, 0, 1), event(impl.EvDeliver), event(impl.EvRevoke, 1, 98)}
+	return []call{
+		{"ValidArchive", impl.ValidArchive, []any{a}},
+		{"SameArchive", impl.SameArchive, []any{a, b}},
+		{"IsShown", impl.IsShown, []any{a, s, e.Rests, e.Proof}},
+		{"ValidEvent", impl.ValidEvent, []any{a, e}},
+		{"StepArchive", impl.StepArchive, []any{a, e}},
+		{"RunArchive", impl.RunArchive, []any{a, []impl.Event{e, event(impl.EvSave), e}}},
+		{"RunArchive over a crash", impl.RunArchive, []any{a, losing}},
+		{"KnownIds", impl.KnownIds, []any{a, s}},
+		{"RevokedIds", impl.RevokedIds, []any{a, s}},
+		{"ClosureOf", impl.ClosureOf, []any{a, s, id}},
+		{"DependentsOf", impl.DependentsOf, []any{a, s, id}},
+		{"SavedAt", impl.SavedAt, []any{a, id%2 == 0, id}},
+		{"TellLemma", impl.TellLemma, []any{a, id, asked}},
+		{"RepairRests", impl.RepairRests, []any{a, s, id}},
+		{"SpreadEvents", impl.SpreadEvents, []any{a}},
+		{"ServerText", impl.ServerText, []any{a, s}},
+	}
+}
+
+// invalidArchiveCalls are calls of chapter 8 with something that is not valid,
+// and with other arguments out of their ranges.
+func invalidArchiveCalls(t *testing.T, good impl.Archive, archives map[string]impl.Archive, notes map[string]impl.Note, events map[string]impl.Event) map[string]call {
+	t.Helper()
+	calls := map[string]call{}
+	add := func(name string, list ...call) {
+		for _, c := range list {
+			calls[c.name+" of "+name] = c
+		}
+	}
+	saving := slices.Repeat([]impl.Event{event(impl.EvSave, 9)}, 301)
+	for name, a := range archives {
+		add("the archive "+name, archiveCalls(a, a, put(9, unitProof(t, 0)), 9, 999, []int64{9})...)
+		add("the archive "+name+", with many events", call{"RunArchive", impl.RunArchive, []any{a, saving}})
+	}
+	for name, n := range notes {
+		if !n.Revoke && n.Entry.Id == n.Id && n.Id == 3 {
+			e := put(9, n.Entry.Proof, n.Entry.Rests...)
+			add("the entry "+name, archiveCalls(good, good, e, 9, 0, nil)[2:6]...)
+		}
+	}
+	for name, e := range events {
+		add("the event "+name, archiveCalls(good, good, e, 9, 0, nil)[3:6]...)
+		add("the last event "+name, call{"RunArchive", impl.RunArchive, []any{good, append(slices.Clone(saving), e)}})
 	}
 	return calls
 }
@@ -728,6 +782,46 @@ func TestPurityOfConditions(t *testing.T) {
 	}
 }
 
+// TestPurityOfArchives: no archive, note, event or list that is told shares
+// memory, and no notes of an argument are written over.
+func TestPurityOfArchives(t *testing.T) {
+	r := rand.New(rand.NewSource(340))
+	for i := range 120 {
+		a, _ := randomArchive(r, int64(1+i%5), i%50)
+		b := changedArchive(r, a)
+		e, s, id := randomEvent(r, a), r.Int63n(int64(len(a.Servers))), r.Int63n(12)
+		lists := subsets(len(a.Servers))
+		for _, c := range append(archiveCalls(a, b, e, s, id, lists[len(lists)-1]), archiveCalls(b, a, randomPut(r, a, s, 0), s, id, lists[r.Intn(len(lists))])...) {
+			checkPure(t, c)
+		}
+		if events, code := impl.SpreadEvents(a); code == impl.OK {
+			checkPure(t, call{"RunArchive", impl.RunArchive, []any{a, events}})
+		}
+		checkPure(t, call{"CountVotes", impl.CountVotes, []any{randomVotes(r, true, i%3)[:5-i%2]}})
+		checkPure(t, call{"NewArchive", impl.NewArchive, []any{smallSigs[i%len(smallSigs)], int64(i % 7)}})
+	}
+	for _, e := range goodEvents(t) {
+		for _, c := range archiveCalls(someArchive(t), linked(t), e, 1, 7, []int64{0, 1}) {
+			checkPure(t, c)
+		}
+	}
+	for id := range int64(6) {
+		for _, c := range archiveCalls(linked(t), linked(t), put(0, starProof(t, 2), 0, 1), 0, id, []int64{0}) {
+			checkPure(t, c)
+		}
+	}
+	for _, a := range goodArchives(t) {
+		for _, c := range archiveCalls(a, a, event(impl.EvDeliver), 0, 99, []int64{0}) {
+			checkPure(t, c)
+		}
+	}
+	bad := badArchives(t)
+	maps.DeleteFunc(bad, func(name string, a impl.Archive) bool { return strings.Contains(name, "proof: ") }) // they are very many
+	for _, c := range invalidArchiveCalls(t, someArchive(t), bad, badNotes(t), badEvents(t)) {
+		checkPure(t, c)
+	}
+}
+
 // TestPurityOfInvalid: what is not valid is not modified either.
 func TestPurityOfInvalid(t *testing.T) {
 	g, w := impl.Sig{Tests: 2, Actions: 2}, impl.Word{Atoms: []int64{0}}
@@ -809,6 +903,9 @@ func TestZeroWithErrors(t *testing.T) {
 	for name, c := range invalidConditionCalls(sig22, badExprs(), badTriples(), badPremises(), badWorlds()) {
 		checkInvalid(t, name, c)
 	}
+	for name, c := range invalidArchiveCalls(t, someArchive(t), badArchives(t), badNotes(t), badEvents(t)) {
+		checkInvalid(t, name, c)
+	}
 	for name, a := range badAutomata() {
 		for _, number := range []int64{1, 99} {
 			for _, c := range automatonCalls(a, a, w, number) {
@@ -884,6 +981,7 @@ func TestLargeArguments(t *testing.T) {
 	largeModels(t)
 	largePrograms(t, large)
 	largeDerivations(t, large)
+	largeArchives(t, large)
 	numbers := make([]int64, 240_000)
 	long := impl.Word{Atoms: numbers, Acts: numbers[1:]}
 	_, first := impl.ReverseWord(sig12, long)
@@ -942,6 +1040,7 @@ func TestLargeArguments(t *testing.T) {
 			}
 			calls = append(append(calls, flowCalls(sig01, f)...), flowCalls(g, f)...)
 			calls = append(append(calls, endCalls(sig01, x, y)...), endCalls(g, x, y)...)
+			calls = append(calls, endArchiveCalls(t, g, x, y)...)
 			for _, c := range calls {
 				reflect.ValueOf(c.fn).Call(values(c.args, 0))
 			}
@@ -1182,6 +1281,74 @@ func largeTriples(t *testing.T) {
 	size := impl.DerivationSize(d)
 	count, fourth := impl.CheckDerivation(sig34, premises, d)
 	want(t, "a large triple", list(first, second, third, fourth, len(pairs), size == count && size > 100), list(impl.ErrNotFound, impl.OK, impl.ErrLimit, impl.OK, 0, true))
+}
+
+// endArchiveCalls are calls of chapter 8 with two numbers wherever there is one.
+func endArchiveCalls(t *testing.T, g impl.Sig, x, y int64) []call {
+	t.Helper()
+	a, e := someArchive(t), put(x, starProof(t, 1), y)
+	calls := []call{{"NewArchive", impl.NewArchive, []any{g, x}}, {"NewArchive", impl.NewArchive, []any{sig22, y}}}
+	for _, b := range []impl.Archive{a, {Sig: g, Servers: []impl.Server{upServer(0)}}, archive(impl.Server{Up: true, Saved: x}), archive(upServer(1, entryNote(x, starProof(t, 1), y))), archive(upServer(1, revocation(x))), {Sig: sig22, Servers: []impl.Server{upServer(0)}, Flying: []impl.Packet{{To: x, Note: revocation(y)}}}} {
+		for _, e := range []impl.Event{e, event(x, y), event(impl.EvSend, x, y, x), event(impl.EvRevoke, 0, y), event(impl.EvDeliver, x)} {
+			calls = append(append(calls, archiveCalls(b, a, e, x, y, []int64{x, y})...), archiveCalls(b, a, e, 0, y, []int64{0, x})...)
+		}
+	}
+	return calls
+}
+
+// largeArchives: archives, events and lists that have nearly a million elements,
+// and the work for an archive that is as large as it may be.
+func largeArchives(t *testing.T, exprs map[string]impl.Expr) {
+	t.Helper()
+	p, numbers := unitProof(t, 0), make([]int64, 900_000)
+	archives, notes := map[string]impl.Archive{"many servers": archive(make([]impl.Server, 300_000)...), "many notes": archive(upServer(0, make([]impl.Note, 150_000)...)), "many packets": {Sig: sig22, Servers: []impl.Server{upServer(0)}, Flying: make([]impl.Packet, 150_000)}}, map[string]impl.Note{}
+	notes["many rests"], notes["many claims"] = entryNote(3, p, numbers...), entryNote(3, impl.Proof{Sig: sig22, Claims: slices.Repeat(p.Claims, 60_000)})
+	notes["a revocation with many rests"], notes["a revocation with many claims"] = impl.Note{Revoke: true, Entry: impl.Entry{Rests: numbers}}, impl.Note{Revoke: true, Entry: impl.Entry{Proof: notes["many claims"].Entry.Proof}}
+	for name, e := range exprs {
+		notes["a side, "+name] = entryNote(3, impl.Proof{Sig: sig22, Claims: []impl.Claim{{Left: one, Right: e, Rule: impl.ClSteps}}})
+		notes["a step, "+name] = entryNote(3, impl.Proof{Sig: sig22, Claims: []impl.Claim{{Left: one, Right: one, Rule: impl.ClSteps, Steps: []impl.ProofStep{{Use: 20, Acts: []impl.Expr{e}}}}}})
+		notes["a revocation, "+name] = impl.Note{Revoke: true, Id: 3, Entry: notes["a side, "+name].Entry}
+	}
+	for name, n := range notes {
+		archives["a note, "+name] = archive(upServer(1, n))
+		archives["a packet, "+name] = impl.Archive{Sig: sig22, Servers: []impl.Server{upServer(0)}, Flying: []impl.Packet{{Note: n}}}
+	}
+	for name, a := range archives {
+		want(t, name, list(impl.SameArchive(a, a), impl.SameArchive(a, archive(upServer(0))), impl.SameArchive(archive(upServer(1, revocation(0))), a)), "[true false false]")
+	}
+	votes := put(0, p)
+	votes.Votes = make([]bool, 900_000)
+	events := map[string]impl.Event{"many votes": votes, "votes where none belong": {Kind: impl.EvSave, Votes: votes.Votes}, "rests where none belong": {Kind: impl.EvSave, Rests: numbers}, "claims where none belong": {Kind: impl.EvSave, Proof: notes["many claims"].Entry.Proof}}
+	for name, c := range invalidArchiveCalls(t, someArchive(t), archives, notes, events) {
+		checkInvalid(t, name, c)
+	}
+	_, first := impl.CountVotes(votes.Votes)
+	_, second := impl.TellLemma(someArchive(t), 1, numbers)
+	_, _, third := impl.RunArchive(someArchive(t), slices.Repeat([]impl.Event{event(impl.EvSave)}, 100_000))
+	want(t, "long lists", list(first, second, third), list(impl.ErrInvalid, impl.ErrRange, impl.ErrRange))
+	largestArchive(t)
+}
+
+// largestArchive: servers that know large entries, and one that knows none yet.
+func largestArchive(t *testing.T) {
+	t.Helper()
+	entries := []impl.Note{}
+	for id := range int64(20) {
+		entries = append(entries, entryNote(id, largeProof(t, 11_000)))
+	}
+	a, b := archive(upServer(0, entries...), upServer(0), upServer(0, entries...), upServer(0, entries...), upServer(0, entries...)), archive(upServer(0, entries...), upServer(0), upServer(0), upServer(0), upServer(0))
+	for _, c := range archiveCalls(a, b, put(1, largeProof(t, 20_000)), 0, 19, []int64{0, 2, 3}) {
+		results := reflect.ValueOf(c.fn).Call(values(c.args, 0))
+		if code := results[len(results)-1]; len(results) > 1 && c.name != "TellLemma" && c.name != "RepairRests" {
+			want(t, c.name+" of large entries", code.Int(), map[bool]int{true: impl.ErrLimit}[c.name == "StepArchive"])
+		}
+	}
+	for _, x := range []impl.Archive{a, b} {
+		events, code := impl.SpreadEvents(x)
+		y, made, second := impl.RunArchive(x, events)
+		known, third := impl.KnownIds(y, 1)
+		want(t, "large entries are spread", list(code, made == int64(len(events)), second, len(known), third), list(impl.OK, true, impl.OK, 20, impl.OK))
+	}
 }
 
 // TestRandomBytes: texts of all kinds are read, or refused by ErrSyntax; what
